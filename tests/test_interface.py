@@ -1,0 +1,27 @@
+import inspect
+import unittest
+
+from threescribes import errors, sets, settexts
+
+FUNCTIONS = {
+    sets: {"is_set": ["thing"], "least": ["machine"], "contains": ["machine", "text"], "join": ["one", "other"],
+           "meet": ["one", "other"], "less": ["one", "other"], "row": ["one", "other"], "star": ["machine"],
+           "turned": ["machine"], "all_texts": ["letters"], "no_texts": ["letters"], "shortest": ["machine"]},
+    settexts: {"parse_set": ["text"], "print_set": ["tree"], "set_of": ["tree", "letters"]},
+}
+
+
+class TheInterface(unittest.TestCase):
+    def test_functions_with_their_arguments_in_their_files(self):
+        for module, functions in FUNCTIONS.items():
+            for name, arguments in functions.items():
+                function = getattr(module, name)
+                self.assertTrue(inspect.isfunction(function), name)
+                self.assertEqual(function.__module__, module.__name__)
+                self.assertEqual(list(inspect.signature(function).parameters), arguments, name)
+
+    def test_error_classes_in_their_file(self):
+        for name in ("ScribeError", "BadSign", "Unexpected"):
+            self.assertEqual(getattr(errors, name).__module__, "threescribes.errors")
+        for name in ("BadSign", "Unexpected"):
+            self.assertIn("__init__", vars(getattr(errors, name)))

@@ -1,0 +1,1 @@
+"""Threescribes: functions of texts in three forms."""
