@@ -1,13 +1,17 @@
 import inspect
 import unittest
 
-from threescribes import errors, sets, settexts
+from threescribes import boxes, errors, heads, sets, settexts, smaller, terms
 
 FUNCTIONS = {
     sets: {"is_set": ["thing"], "least": ["machine"], "contains": ["machine", "text"], "join": ["one", "other"],
            "meet": ["one", "other"], "less": ["one", "other"], "row": ["one", "other"], "star": ["machine"],
            "turned": ["machine"], "all_texts": ["letters"], "no_texts": ["letters"], "shortest": ["machine"]},
     settexts: {"parse_set": ["text"], "print_set": ["tree"], "set_of": ["tree", "letters"]},
+    boxes: {"is_boxes": ["thing"], "run_boxes": ["boxes", "text"], "domain_of": ["boxes"]},
+    smaller: {"smaller": ["boxes"]},
+    heads: {"is_head": ["thing"], "is_plain": ["head"], "run_head": ["head", "text"]},
+    terms: {"parse_term": ["text"], "print_term": ["tree"]},
 }
 
 

@@ -33,6 +33,12 @@ def nodes(kind):
     return [(file.name, node) for file in FILES for node in ast.walk(tree_of(file)) if isinstance(node, kind)]
 
 
+def defined_in(tree):
+    """The functions, classes and values of a file."""
+    names = [node.name for node in tree.body if isinstance(node, (ast.FunctionDef, ast.ClassDef))]
+    return names + [target.id for node in tree.body if isinstance(node, ast.Assign) for target in node.targets]
+
+
 def names_bound(tree):
     """All names that a file gives a meaning, with the parameters."""
     bound = []
@@ -45,6 +51,8 @@ def names_bound(tree):
             bound.append(node.id)
         elif isinstance(node, ast.alias):
             bound.append(node.asname or node.name)
+        elif isinstance(node, ast.ExceptHandler) and node.name:
+            bound.append(node.name)
     return bound
 
 
@@ -88,7 +96,7 @@ class TheModules(unittest.TestCase):
                 continue
             self.assertEqual((node.level, node.module.split(".")[0]), (0, "threescribes"), name)
             file = PACKAGE.joinpath(*node.module.split(".")[1:]).with_suffix(".py")
-            defined = [part.name for part in tree_of(file).body if isinstance(part, (ast.FunctionDef, ast.ClassDef))]
+            defined = defined_in(tree_of(file))
             for alias in node.names:
                 self.assertIn(alias.name, defined, name)
 
@@ -105,9 +113,8 @@ class TheModules(unittest.TestCase):
     def test_each_name_has_one_meaning(self):
         for file in FILES:
             tree = tree_of(file)
-            top = [node.name for node in tree.body if isinstance(node, (ast.FunctionDef, ast.ClassDef))]
-            top += [target.id for node in tree.body if isinstance(node, ast.Assign) for target in node.targets]
-            top += [alias.name for node in tree.body if isinstance(node, ast.ImportFrom) for alias in node.names]
+            top = defined_in(tree) + [alias.name for node in tree.body if isinstance(node, ast.ImportFrom)
+                                      for alias in node.names]
             self.assertEqual(len(top), len(set(top)), file)
             bound = names_bound(tree)
             for name in top:

@@ -10,21 +10,20 @@ def sources_of(goals):
     return sources
 
 
-def blocks_of(goals, ends):
-    """For each state the number of its block: the same for states that no text tells apart.
+def blocks_of(goals, kinds):
+    """For each state the number of its block: the same for states that no text leads to states of unlike kinds.
 
     Blocks are split by the states from which a letter leads into another block. Each block waits
     until it has split the others. When a block is split, it is enough that the smaller part waits:
     what the whole has split, and the smaller part splits, the larger part does not split further.
     """
-    members = [{}, {}]
-    block = [0] * len(ends)
-    for state, end in enumerate(ends):
-        if end:
-            block[state] = 1
-        members[block[state]][state] = True
+    numbers = {}
+    block = [numbers.setdefault(kind, len(numbers)) for kind in kinds]
+    members = [{} for _ in numbers]
+    for state, number in enumerate(block):
+        members[number][state] = True
     sources = sources_of(goals)
-    waiting = [0, 1]
+    waiting = list(range(len(members)))
     while waiting:
         inside = list(members[waiting.pop()])
         for into in sources:

@@ -25,3 +25,20 @@ def is_letters(thing):
         return False
     rising = all([x < y for x, y in zip(thing, thing[1:])])
     return rising and all([is_small(x) for x in thing])
+
+
+def is_text(thing):
+    """Whether a thing is a string of small letters, also the empty one."""
+    return isinstance(thing, str) and all([is_small(x) for x in thing])
+
+
+def are_goals(thing, many):
+    """Whether a thing is a tuple of one state or more: for each of so many letters the state behind it."""
+    if not isinstance(thing, tuple) or len(thing) == 0:
+        return False
+    return all([are_indices(steps, many, len(thing)) for steps in thing])
+
+
+def are_indices(thing, many, bound):
+    """Whether a thing is a tuple of so many integers from 0 to bound - 1."""
+    return is_tuple(thing, many) and all([is_index(goal, bound) for goal in thing])

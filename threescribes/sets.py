@@ -5,7 +5,7 @@ least one of its set, with its states numbered in the order in which they are fi
 """
 
 from threescribes.blocks import blocks_of, sources_of
-from threescribes.checks import is_index, is_letters, is_tuple
+from threescribes.checks import are_goals, is_letters, is_tuple
 
 
 def is_set(thing):
@@ -13,16 +13,9 @@ def is_set(thing):
     if not is_tuple(thing, 4) or thing[0] != "set" or not is_letters(thing[1]):
         return False
     letters, goals, ends = thing[1:]
-    if not isinstance(goals, tuple) or len(goals) == 0 or not is_tuple(ends, len(goals)):
+    if not are_goals(goals, len(letters)) or not is_tuple(ends, len(goals)):
         return False
-    if not all([isinstance(end, bool) for end in ends]):
-        return False
-    return all([are_steps(steps, len(letters), len(goals)) for steps in goals])
-
-
-def are_steps(thing, many, states):
-    """Whether a thing is a tuple with one state for each of so many letters."""
-    return is_tuple(thing, many) and all([is_index(goal, states) for goal in thing])
+    return all([isinstance(end, bool) for end in ends])
 
 
 def least(machine):
@@ -39,15 +32,18 @@ def least(machine):
     return met_from(letters, block[0], step, lambda number: ends[shown[number]])
 
 
-def met_from(letters, start, step, has_end):
-    """The machine whose states are the keys that are met from a start, in this order.
+def met_from(letters, start, step, has_end, most=None):
+    """The machine whose states are the keys that are met from a start, in this order; None if these are too many.
 
-    step(key, k) is the key behind the k-th letter, has_end(key) tells whether a text may end there.
+    step(key, k) is the key behind the k-th letter, has_end(key) tells whether a text may end there,
+    and most is the number of keys that are not yet too many, or None.
     """
     numbers = {start: 0}
     keys = [start]
     goals = []
     while len(goals) < len(keys):
+        if most is not None and len(keys) > most:
+            return None
         key = keys[len(goals)]
         behind = [step(key, k) for k in range(len(letters))]
         for goal in behind:
