@@ -1,7 +1,7 @@
 import inspect
 import unittest
 
-from threescribes import boxes, errors, heads, sets, settexts, smaller, terms
+from threescribes import after, boxes, build, errors, heads, meaning, sets, settexts, smaller, terms, walks
 
 FUNCTIONS = {
     sets: {"is_set": ["thing"], "least": ["machine"], "contains": ["machine", "text"], "join": ["one", "other"],
@@ -12,6 +12,10 @@ FUNCTIONS = {
     smaller: {"smaller": ["boxes"]},
     heads: {"is_head": ["thing"], "is_plain": ["head"], "run_head": ["head", "text"]},
     terms: {"parse_term": ["text"], "print_term": ["tree"]},
+    meaning: {"value_of": ["tree", "letters", "text"]},
+    build: {"boxes_of": ["tree", "letters"]},
+    walks: {"head_of": ["boxes"]},
+    after: {"after": ["first", "second"]},
 }
 
 

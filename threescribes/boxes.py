@@ -70,9 +70,8 @@ def run_boxes(boxes, text):
     return None if ends[state] is None else put_together(ends[state], contents)
 
 
-def classes_behind(ahead, indices):
-    """For each of some letters, told by their indices, the class of the rest behind it."""
-    number = 0
+def classes_behind(ahead, indices, number=0):
+    """For each of some letters, told by their indices, the class behind it, with a class behind the last one."""
     classes = []
     for k in reversed(indices):
         classes.append(number)

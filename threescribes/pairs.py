@@ -4,6 +4,8 @@ A text and its rest lead to such a pair. A table tells, for each class, in which
 behind a text if its rest has this class; so it can be found from left to right.
 """
 
+from threescribes.reach import spread
+
 STOPPED = -1
 
 
@@ -35,14 +37,7 @@ def live_pairs(boxes):
             for behind, entry in enumerate(entries):
                 if entry is not None:
                     sources.setdefault((entry[0], behind), []).append((state, ahead[behind][k]))
-    live = {(state, 0): True for state, end in enumerate(ends) if end is not None}
-    waiting = list(live)
-    while waiting:
-        for pair in sources.get(waiting.pop(), []):
-            if pair not in live:
-                live[pair] = True
-                waiting.append(pair)
-    return live
+    return spread([(state, 0) for state, end in enumerate(ends) if end is not None], sources)
 
 
 def first_table(boxes, live):

@@ -6,6 +6,7 @@ least one of its set, with its states numbered in the order in which they are fi
 
 from threescribes.blocks import blocks_of, sources_of
 from threescribes.checks import are_goals, is_letters, is_tuple
+from threescribes.reach import met_by_letters
 
 
 def is_set(thing):
@@ -38,19 +39,10 @@ def met_from(letters, start, step, has_end, most=None):
     step(key, k) is the key behind the k-th letter, has_end(key) tells whether a text may end there,
     and most is the number of keys that are not yet too many, or None.
     """
-    numbers = {start: 0}
-    keys = [start]
-    goals = []
-    while len(goals) < len(keys):
-        if most is not None and len(keys) > most:
-            return None
-        key = keys[len(goals)]
-        behind = [step(key, k) for k in range(len(letters))]
-        for goal in behind:
-            if goal not in numbers:
-                numbers[goal] = len(keys)
-                keys.append(goal)
-        goals.append(tuple([numbers[goal] for goal in behind]))
+    found = met_by_letters(start, step, len(letters), most)
+    if found is None:
+        return None
+    keys, goals = found
     return ("set", letters, tuple(goals), tuple([has_end(key) for key in keys]))
 
 

@@ -1,6 +1,8 @@
 """Box machines made smaller: the same function without what does not matter or is there twice."""
 
 from threescribes.blocks import blocks_of
+from threescribes.reach import met_in_order, spread
+from threescribes.rows import boxes_in
 
 
 def smaller(boxes):
@@ -24,20 +26,6 @@ def numbered(boxes):
     state_of = {state: at for at, state in enumerate(states)}
     class_of = {number: at for at, number in enumerate(classes)}
     return rebuilt(boxes, states, classes, state_of, class_of)
-
-
-def met_in_order(behind):
-    """The list of the numbers met from 0, in the order in which they are first met."""
-    met = {0: True}
-    order = [0]
-    at = 0
-    while at < len(order):
-        for number in behind(order[at]):
-            if number not in met:
-                met[number] = True
-                order.append(number)
-        at += 1
-    return order
 
 
 def rebuilt(boxes, states, classes, state_of, class_of):
@@ -64,53 +52,38 @@ def with_entries(boxes, change):
 def without_lost_entries(boxes):
     """The machine with None for each entry behind which no end can be reached."""
     rows, ends = boxes[4:]
-    sources = [[] for _ in rows]
+    sources = {}
     for state, by_letter in enumerate(rows):
         for entries in by_letter:
             for entry in entries:
                 if entry is not None:
-                    sources[entry[0]].append(state)
+                    sources.setdefault(entry[0], []).append(state)
     live = spread([state for state, end in enumerate(ends) if end is not None], sources)
     return with_entries(boxes, lambda entry: entry if entry[0] in live else None)
-
-
-def spread(begun, behind):
-    """The numbers that are begun with or met behind such ones, as the keys of a dict."""
-    met = {number: True for number in begun}
-    waiting = list(met)
-    while waiting:
-        for number in behind[waiting.pop()]:
-            if number not in met:
-                met[number] = True
-                waiting.append(number)
-    return met
 
 
 def without_idle_boxes(boxes):
     """The machine without the boxes that come into no end, neither at once nor by other boxes."""
     letters, ahead, many, rows, ends = boxes[1:]
-    into = [[] for _ in range(many)]
-    for by_letter in rows:
-        for entries in by_letter:
-            for entry in entries:
-                if entry is not None:
-                    for box, row in enumerate(entry[1]):
-                        into[box].extend(boxes_in(row))
-    matter = spread([box for end in ends if end is not None for box in boxes_in(end)], into)
-    kept = sorted(matter)
+    met = [entry[1] for by_letter in rows for entries in by_letter for entry in entries if entry is not None]
+    # There are far fewer news than entries.
+    different = {news: True for news in met}
+    into = {}
+    for news in different:
+        for box, row in enumerate(news):
+            into.setdefault(box, []).extend(boxes_in(row))
+    kept = sorted(spread([box for end in ends if end is not None for box in boxes_in(end)], into))
+    if len(kept) == many:
+        return boxes
     names = {box: at for at, box in enumerate(kept)}
 
     def renamed(row):
         return tuple([item if isinstance(item, str) else names[item] for item in row])
 
-    changed = with_entries(boxes, lambda entry: (entry[0], tuple([renamed(entry[1][box]) for box in kept])))
+    fewer = {news: tuple([renamed(news[box]) for box in kept]) for news in different}
+    changed = with_entries(boxes, lambda entry: (entry[0], fewer[entry[1]]))
     new_ends = tuple([None if end is None else renamed(end) for end in ends])
     return ("boxes", letters, ahead, len(kept), changed[4], new_ends)
-
-
-def boxes_in(row):
-    """The boxes of a row."""
-    return [item for item in row if not isinstance(item, str)]
 
 
 def with_merged_states(boxes):
