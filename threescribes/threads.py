@@ -31,7 +31,7 @@ def strings_told(contents):
 
 
 def linked(thread, threads):
-    """A thread that is made of what boxes held at some place, made of what they held earlier, by the threads of these."""
+    """A thread made of what boxes held at some place, in terms of what they held earlier, by the threads of these."""
     shape = []
     pieces = [thread[1][0]]
     for box, piece in zip(thread[0], thread[1][1:]):
