@@ -143,6 +143,28 @@ class TheLanguage(unittest.TestCase):
             if isinstance(node.func, ast.Attribute):
                 self.assertIn(node.func.attr, METHODS + own, name)
 
+    def test_names_of_methods_and_attributes(self):
+        taken = {name for kind in (str, int, list, dict, set, bytes) for name in dir(kind)}
+        taken -= set("count index title find get join lower upper split strip copy add".split())
+        for name, node in nodes(ast.Attribute):
+            if isinstance(node.ctx, ast.Store):
+                self.assertNotIn(node.attr, taken, name)
+        for name, node in nodes(ast.ClassDef):
+            for part in node.body:
+                if isinstance(part, ast.FunctionDef) and not part.name.startswith("__"):
+                    self.assertNotIn(part.name, taken, name)
+            methods = {part.name for part in node.body if isinstance(part, ast.FunctionDef)}
+            stored = {part.attr for part in ast.walk(node) if isinstance(part, ast.Attribute)
+                      and isinstance(part.ctx, ast.Store)}
+            self.assertFalse(methods & stored, name)
+
+    def test_attributes_that_are_read_are_assigned(self):
+        stored = {node.attr for _, node in nodes(ast.Attribute) if isinstance(node.ctx, ast.Store)}
+        defined = {node.name for _, node in nodes(ast.FunctionDef)}
+        for name, node in nodes(ast.Attribute):
+            if isinstance(node.ctx, ast.Load) and node.attr not in METHODS:
+                self.assertIn(node.attr, stored | defined | {"__init__"}, name)
+
     def test_statements_and_expressions(self):
         self.assertEqual(nodes((ast.AsyncFunctionDef, ast.AsyncFor, ast.AsyncWith, ast.Await, ast.Div)), [])
         for name, node in nodes(ast.ClassDef):

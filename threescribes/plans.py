@@ -48,10 +48,10 @@ def plan_of(sketch):
     while found.waiting:
         state, number = found.waiting.pop()
         for k, behind in sources[number]:
-            entry = sketch.step(found.keys[state], k, keys[behind])
+            entry = sketch.step(found.names[state], k, keys[behind])
             if entry is not None:
                 steps[(state, k, behind)] = (found.met(entry[0], len(entry[1]), behind), entry[1])
-    ends = [sketch.end(key) if (state, 0) in found.pairs else None for state, key in enumerate(found.keys)]
+    ends = [sketch.end(key) if (state, 0) in found.pairs else None for state, key in enumerate(found.names)]
     return Plan(sketch.letters, ahead, firsts, steps, ends, found.sizes)
 
 
@@ -69,7 +69,7 @@ class Found:
 
     def __init__(self):
         self.numbers = {}
-        self.keys = []
+        self.names = []
         self.sizes = []
         self.pairs = {}
         self.waiting = []
@@ -77,8 +77,8 @@ class Found:
     def met(self, key, size, number):
         """The number of a state, which has so many boxes and now a rest of some class."""
         if key not in self.numbers:
-            self.numbers[key] = len(self.keys)
-            self.keys.append(key)
+            self.numbers[key] = len(self.names)
+            self.names.append(key)
             self.sizes.append(size)
         pair = (self.numbers[key], number)
         if pair not in self.pairs:
