@@ -3,7 +3,7 @@ import unittest
 
 from plainboxes import any_boxes, run, some_boxes
 from plainly import is_least, read, texts
-from threescribes.boxes import domain_of, is_boxes, run_boxes
+from threescribes.boxes import domain_of, is_boxes, read_from_left, read_from_right, run_boxes
 from threescribes.sets import all_texts, is_set, no_texts
 from threescribes.settexts import parse_set, set_of
 
@@ -163,6 +163,21 @@ class Domains(unittest.TestCase):
         chance = random.Random(25)
         for _ in range(250):
             self.check(some_boxes(chance), 5)
+
+    def test_from_either_side(self):
+        chance = random.Random(27)
+        for _ in range(250):
+            machine = some_boxes(chance)
+            left, right = read_from_left(machine, None), read_from_right(machine, None)
+            for text in texts(machine[1], 4):
+                expected = run(machine, text) is not None
+                self.assertIs(read(left, text), expected, (machine, text))
+                self.assertIs(read(right, text[::-1]), expected, (machine, text))
+            # None if there are too many.
+            for found, again in ((left, read_from_left), (right, read_from_right)):
+                many = len(found[2])
+                self.assertEqual(again(machine, many), found)
+                self.assertIsNone(again(machine, many - 1))
 
     def test_far_more_to_tell_apart_from_one_side(self):
         # The k-th letter is an a: from the right this takes a state for each set of places.

@@ -38,7 +38,7 @@ def is_move(thing, states, steps):
     if not is_tuple(thing, 3) or not is_index(thing[0], states) or not is_text(thing[2]):
         return False
     # Python counts True as 1, the program does not.
-    return isinstance(thing[1], int) and not isinstance(thing[1], bool) and thing[1] in steps
+    return not isinstance(thing[1], bool) and thing[1] in steps
 
 
 def is_plain(head):

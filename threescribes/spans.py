@@ -18,8 +18,8 @@ def places_in(mask):
 
 
 def all_places(begin, end):
-    """The places from begin to end, both included."""
-    return (1 << (end + 1)) - (1 << begin) if begin <= end else 0
+    """The places from begin to end, both included; none if the begin is just behind the end."""
+    return (1 << (end + 1)) - (1 << begin)
 
 
 def spans_of(tree, text):

@@ -110,10 +110,10 @@ class Reader:
         self.skip_spaces()
         names = list(ARGUMENTS)
         many = 0
-        # No name begins with another one, so letters are read until one name is whole.
-        while len(names) > 1 or many < len(names[0]):
+        # No name begins with another one, so only one name is left when the first one left is whole.
+        while many < len(names[0]):
             sign = self.text[self.place:self.place + 1]
-            names = [name for name in names if sign != "" and name[many:many + 1] == sign]
+            names = [name for name in names if name[many:many + 1] == sign]
             if len(names) == 0:
                 raise Unexpected(self.place)
             self.place += 1
