@@ -85,6 +85,13 @@ class Machines(unittest.TestCase):
                          "chain({()}, copy({.*}))", "chain({a|b.}, copy({.*}))", 'chain({.}, pick({aa}, word("x", {.*}), copy({ab|ba})))',
                          "chain({a*b}, both(copy({.*}), copy({.*})))", "chain({a*b}, copy({(..)*}))", "chain({a*b}, copy({.|..|...}))")
 
+    def test_chains_with_unlike_numbers_of_boxes(self):
+        # Two plans run side by side, and each has more boxes at one piece than at the other one.
+        self.check_texts("chain({a*b}, cut(copy({a*b}), back(copy({.}))))", "chain({.}, cut(copy({.}), both(copy({.}), copy({.}))))",
+                         "chain({a*b}, cut(both(copy({a*b}), copy({.*})), copy({a*b})))", 'chain({a*b}, cut(word("x", {a*b}), copy({a*b})))',
+                         'chain({a*b}, cut(copy({a*b}), word("x", {a*b})))', "chain({..}, cut(back(copy({.})), copy({b.})))",
+                         "chain({a*b}, back(cut(back(copy({a})), copy({b}))))")
+
     def test_then(self):
         self.check_texts("then(copy({.*}), copy({a*}))", "then(both(copy({.*}), copy({.*})), back(copy({.})))",
                          "then(each(both(copy({.}), copy({.}))), back(copy({.})))", "then(back(copy({.})), both(copy({.*}), copy({a*b*})))",

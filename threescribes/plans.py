@@ -32,8 +32,8 @@ def plan_of(sketch):
 
     sketch.empty() is the key of the class of the empty text, sketch.behind(key, k) that of the k-th
     letter followed by a rest of a class. sketch.first(key) is None or a state's key with what its boxes
-    hold, sketch.step(state, k, key) None or the next state's key with its news, for a rest of a class.
-    sketch.end(state) is a row or None, and is only asked where a text may end.
+    hold, sketch.step(state, k, key) the next state's key with its news, for a rest of a class, and
+    sketch.end(state) a row. These two are only asked where some text with a value leads.
     """
     keys, ahead = met_by_letters(sketch.empty(), lambda key, k: sketch.behind(key, k), len(sketch.letters))
     found = Found()
@@ -48,9 +48,8 @@ def plan_of(sketch):
     while found.waiting:
         state, number = found.waiting.pop()
         for k, behind in sources[number]:
-            entry = sketch.step(found.names[state], k, keys[behind])
-            if entry is not None:
-                steps[(state, k, behind)] = (found.met(entry[0], len(entry[1]), behind), entry[1])
+            goal, news = sketch.step(found.names[state], k, keys[behind])
+            steps[(state, k, behind)] = (found.met(goal, len(news), behind), news)
     ends = [sketch.end(key) if (state, 0) in found.pairs else None for state, key in enumerate(found.names)]
     return Plan(sketch.letters, ahead, firsts, steps, ends, found.sizes)
 
@@ -105,8 +104,8 @@ def plan_of_boxes(boxes):
 def boxes_of_plan(plan):
     """The box machine of a plan.
 
-    A state of the machine, together with the class of the rest, tells that of the plan. So it takes no more
-    states than the plan has beside one class, one for the beginning, and none for each pair of both.
+    A state of the machine stands for another state of the plan with each class of the rest. So there are hardly
+    more states than the plan has with a single class. State 0 is the beginning.
     """
     many = max(plan.sizes + [0])
     names = names_by_class(plan)
@@ -118,14 +117,15 @@ def boxes_of_plan(plan):
     for number, classes in enumerate(plan.ahead):
         for k, whole in enumerate(classes):
             first = plan.firsts[whole]
-            if first is not None and (first[0], k, number) in plan.steps:
+            if first is not None:
                 goal, news = plan.steps[(first[0], k, number)]
                 rows[0][k][number] = (names[number][goal], padded(begun(news, first[1]), many))
     ends = [None] * states
     for state, name in names[0].items():
         ends[name] = plan.ends[state]
-    if plan.firsts[0] is not None and plan.ends[plan.firsts[0][0]] is not None:
-        ends[0] = begun([plan.ends[plan.firsts[0][0]]], plan.firsts[0][1])[0]
+    if plan.firsts[0] is not None:
+        state, contents = plan.firsts[0]
+        ends[0] = begun([plan.ends[state]], contents)[0]
     full = tuple([tuple([tuple(entries) for entries in by_letter]) for by_letter in rows])
     return ("boxes", plan.letters, tuple(plan.ahead), many, full, tuple(ends))
 
