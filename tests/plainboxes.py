@@ -64,9 +64,9 @@ def any_news(chance, many, loss=0.15):
     return tuple(any_row(chance, boxes) for boxes in places)
 
 
-def any_boxes(chance, letters, states, classes, many, stop=0.15, endless=0.3):
+def any_boxes(chance, letters, states, classes, many, stop=0.15, endless=0.3, loss=0.15):
     """Some right box machine."""
-    rows = tuple(tuple(tuple(None if chance.random() < stop else (chance.randrange(states), any_news(chance, many))
+    rows = tuple(tuple(tuple(None if chance.random() < stop else (chance.randrange(states), any_news(chance, many, loss))
                              for _ in range(classes)) for _ in letters) for _ in range(states))
     ends = tuple(None if chance.random() < endless else any_row(chance, some_of(chance, many, 0.2))
                  for _ in range(states))

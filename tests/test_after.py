@@ -157,6 +157,18 @@ class OneBehindTheOther(unittest.TestCase):
             second = self.drawn(chance, chance.choice(("a", "ab", "bc", "abc")), (1, 2), (1, 2), (0, 1, 2), ("x", "zz"))
             self.check(first, second, 4, (9,))
 
+    def test_pairs_with_three_boxes_each_of_which_little_is_lost(self):
+        # Few of these have less than some hundred states.
+        chance = random.Random(94)
+        most = 0
+        for _ in range(12):
+            first = any_boxes(chance, chance.choice(("ab", "abc")), chance.choice((1, 2)), 1, 3, 0, 0, 0.05)
+            second = any_boxes(chance, "ab", chance.choice((1, 2)), chance.choice((1, 1, 2)), 3, 0, 0, 0.05)
+            names = dict(zip(("a", "b", "x", "ab", "zz"), WORDS))
+            machine, _ = self.check(spelled(first, names), spelled(second, names), 4, (9, 20))
+            most = max(most, len(machine[5]))
+        self.assertGreater(most, 1000)
+
     def drawn(self, chance, letters, states, classes, boxes, words=WORDS):
         machine = any_boxes(chance, letters, chance.choice(states), chance.choice(classes), chance.choice(boxes),
                             chance.choice((0, 0, 0.1)), chance.choice((0, 0, 0.2)))

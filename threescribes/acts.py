@@ -39,8 +39,8 @@ class Acts:
 
     def part_of_sign(self, k, number):
         """What the k-th letter does ahead of a class."""
-        goals = [self.plan.steps.get((state, k, number), (STOPPED,))[0] for state in range(len(self.plan.ends))]
-        return (self.plan.ahead[number][k], tuple(goals))
+        steps = [self.plan.step(state, k, number) for state in range(len(self.plan.ends))]
+        return (self.plan.ahead[number][k], tuple([STOPPED if step is None else step[0] for step in steps]))
 
     def act_of(self, string):
         """The act of a string, or None if a letter of it is none of the plan's letters."""

@@ -19,40 +19,57 @@ def is_boxes(thing):
         return False
     if not isinstance(ends, tuple) or len(ends) == 0 or not is_tuple(rows, len(ends)):
         return False
-    if not all([end is None or are_rows((end,), 1, many) for end in ends]):
+    words = {}
+    if not all([end is None or are_rows((end,), 1, many, words) for end in ends]):
         return False
-    return all([are_entries(by_letter, thing) for by_letter in rows])
+    return all([are_entries(by_letter, thing, words) for by_letter in rows])
 
 
-def are_entries(thing, boxes):
+def are_entries(thing, boxes, words):
     """Whether a thing has one right entry of rows for each letter and class of a machine."""
     letters, ahead = boxes[1:3]
     if not is_tuple(thing, len(letters)) or not all([is_tuple(entries, len(ahead)) for entries in thing]):
         return False
-    return all([entry is None or is_step(entry, boxes) for entries in thing for entry in entries])
+    return all([entry is None or is_step(entry, boxes, words) for entries in thing for entry in entries])
 
 
-def is_step(thing, boxes):
+def is_step(thing, boxes, words):
     """Whether a thing is a pair of a state of a machine and a news for its boxes."""
     many, ends = boxes[3], boxes[5]
-    return is_tuple(thing, 2) and is_index(thing[0], len(ends)) and are_rows(thing[1], many, many)
+    return is_tuple(thing, 2) and is_index(thing[0], len(ends)) and are_rows(thing[1], many, many, words)
 
 
-def are_rows(thing, long, many):
-    """Whether a thing is a tuple of so many rows of so many boxes, with no box twice in them."""
-    if not is_tuple(thing, long) or not all([is_row(row, many) for row in thing]):
+def are_rows(thing, long, many, words):
+    """Whether a thing is a tuple of so many rows of so many boxes, with no box twice in them.
+
+    words has the strings that were right before: large machines have few strings, each very often.
+    """
+    if not is_tuple(thing, long):
         return False
-    used = [item for row in thing for item in row if isinstance(item, int)]
+    used = []
+    for row in thing:
+        if not isinstance(row, tuple):
+            return False
+        is_behind_string = False
+        for item in row:
+            if not isinstance(item, str):
+                if not is_index(item, many):
+                    return False
+                used.append(item)
+                is_behind_string = False
+            elif is_behind_string or (item not in words and not is_word(item, words)):
+                return False
+            else:
+                is_behind_string = True
     return len(used) == len(set(used))
 
 
-def is_row(thing, many):
-    """Whether a thing is a tuple of boxes and of strings that are not empty and not side by side."""
-    if not isinstance(thing, tuple):
+def is_word(string, words):
+    """Whether a string consists of small letters and is not empty; if so, it is put down among the words."""
+    if string == "" or not is_text(string):
         return False
-    if not all([is_index(item, many) or (is_text(item) and item != "") for item in thing]):
-        return False
-    return not any([isinstance(x, str) and isinstance(y, str) for x, y in zip(thing, thing[1:])])
+    words[string] = True
+    return True
 
 
 def run_boxes(boxes, text):

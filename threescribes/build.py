@@ -1,28 +1,29 @@
 """Box machines of terms."""
 
-from threescribes.behind import AfterSketch
 from threescribes.chains import ChainSketch
 from threescribes.lean import lean
 from threescribes.pieces import CutSketch, PiecesSketch
-from threescribes.plans import boxes_of_plan, plan_of
+from threescribes.plans import machine_of_plan, plan_of
 from threescribes.rows import all_shifted, joined, shifted
 from threescribes.sets import turned
 from threescribes.settexts import set_of
-from threescribes.smaller import smaller
+from threescribes.weave import woven
 
 
 def boxes_of(tree, letters):
     """A box machine with the values of a term at the texts over the letters."""
-    return smaller(boxes_of_plan(plan_of_term(tree, letters)))
+    return machine_of_plan(plan_of_term(tree, letters))
 
 
 def plan_of_term(tree, letters):
     """The plan of a term."""
+    if tree[0] == "then":
+        return lean(woven(plan_of_term(tree[1], letters), plan_of_term(tree[2], letters)))
     return lean(plan_of(sketch_of(tree, letters)))
 
 
 def sketch_of(tree, letters):
-    """The sketch for a term, with the plans of its parts."""
+    """The sketch for a term that is no then, with the plans of its parts."""
     name = tree[0]
     if name == "word":
         return WordSketch(tree[1], set_of(tree[2], letters))
@@ -36,11 +37,7 @@ def sketch_of(tree, letters):
     other = plan_of_term(tree[-1], letters)
     if name == "pick":
         return PickSketch(set_of(tree[1], letters), one, other)
-    if name == "both":
-        return BothSketch(one, other)
-    if name == "cut":
-        return CutSketch(one, other)
-    return AfterSketch(one, other)
+    return BothSketch(one, other) if name == "both" else CutSketch(one, other)
 
 
 class WordSketch:
@@ -130,7 +127,7 @@ class PickSketch:
     def step(self, state, k, key):
         """The step at a letter."""
         which, number = state
-        goal, news = self.plans[which].steps[(number, k, key[which + 1])]
+        goal, news = self.plans[which].step(number, k, key[which + 1])
         return ((which, goal), news)
 
     def end(self, state):
@@ -164,8 +161,8 @@ class BothSketch:
 
     def step(self, state, k, key):
         """The step at a letter."""
-        goal, news = self.one.steps[(state[0], k, key[0])]
-        other_goal, other_news = self.other.steps[(state[1], k, key[1])]
+        goal, news = self.one.step(state[0], k, key[0])
+        other_goal, other_news = self.other.step(state[1], k, key[1])
         return ((goal, other_goal), news + all_shifted(other_news, self.one.sizes[state[0]]))
 
     def end(self, state):

@@ -82,7 +82,7 @@ class ChainSketch:
         """The step of the plan in one of its states, with so many boxes ahead of its own."""
         if state == NO_STATE:
             return NO_STATE, ()
-        goal, news = self.plan.steps[(state, k, number)]
+        goal, news = self.plan.step(state, k, number)
         return goal, all_shifted(news, many)
 
     def end(self, state):

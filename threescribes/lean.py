@@ -2,96 +2,211 @@
 
 from threescribes.blocks import blocks_of
 from threescribes.plans import Plan
-from threescribes.reach import spread
-from threescribes.rows import boxes_in, joined
+from threescribes.rows import joined
 
 
 def lean(plan):
     """A plan with the same function, with fewer boxes, states and classes where that is easily seen."""
     # Merging classes makes no states equivalent: where classes are, the steps of all states are equal.
-    return with_merged_classes_of(with_merged_states_of(with_fewer_boxes(plan)))
+    return with_merged_classes_of(with_fewer_slots(with_merged_states_of(with_fewer_boxes(plan))))
+
+
+def mask_of(numbers):
+    """The integer with the bits of some numbers."""
+    mask = 0
+    for number in numbers:
+        mask |= 1 << number
+    return mask
+
+
+def bits_of(mask):
+    """The numbers of the bits of an integer, in ascending order."""
+    numbers = []
+    while mask:
+        low = mask & -mask
+        numbers.append(low.bit_length() - 1)
+        mask ^= low
+    return numbers
+
+
+def boxes_of_row(row):
+    """The boxes of a row, as bits."""
+    return mask_of([item for item in row if not isinstance(item, str)])
+
+
+class Kept:
+    """The boxes of a plan's states that are kept, as bits of integers, and the rows that are left of its news."""
+
+    def __init__(self, plan):
+        self.plan = plan
+        # There may be very many news, but they are made of far fewer rows.
+        rows = {row: True for news in plan.news for row in news}
+        boxes = {row: boxes_of_row(row) for row in rows}
+        fulls = {row: any([isinstance(item, str) for item in row]) for row in rows}
+        self.into = [[boxes[row] for row in news] for news in plan.news]
+        self.strings = [mask_of([box for box, row in enumerate(news) if fulls[row]]) for news in plan.news]
+        self.known = {}
+        self.rows_known = {}
+        self.bits = {}
+        self.numbers = {}
+        matter = self.boxes_that_matter()
+        full = self.boxes_that_may_be_full()
+        self.masks = [some & others for some, others in zip(matter, full)]
+
+    def boxes_that_matter(self):
+        """For each state its boxes that come into a value."""
+        plan = self.plan
+        matter = [0 if end is None else boxes_of_row(end) for end in plan.ends]
+        sources = [[] for _ in matter]
+        for state, moves in enumerate(plan.moves):
+            for move in moves:
+                if move is not None:
+                    sources[move[0]].append((state, move[1]))
+        waiting = [state for state, mask in enumerate(matter) if mask]
+        while waiting:
+            goal = waiting.pop()
+            for state, news in sources[goal]:
+                mask = self.come_into(news, matter[goal]) | matter[state]
+                if mask != matter[state]:
+                    matter[state] = mask
+                    waiting.append(state)
+        return matter
+
+    def come_into(self, news, mask):
+        """The boxes that come into some boxes by a news."""
+        key = (0, news, mask)
+        if key not in self.known:
+            found = 0
+            for box, into in enumerate(self.into[news]):
+                if mask >> box & 1:
+                    found |= into
+            self.known[key] = found
+        return self.known[key]
+
+    def boxes_that_may_be_full(self):
+        """For each state its boxes that may hold something."""
+        plan = self.plan
+        full = [0] * len(plan.ends)
+        for first in plan.firsts:
+            if first is not None:
+                full[first[0]] |= mask_of([box for box, string in enumerate(first[1]) if string != ""])
+        waiting = list(range(len(full)))
+        while waiting:
+            state = waiting.pop()
+            for move in plan.moves[state]:
+                if move is not None:
+                    mask = self.made_full(move[1], full[state]) | full[move[0]]
+                    if mask != full[move[0]]:
+                        full[move[0]] = mask
+                        waiting.append(move[0])
+        return full
+
+    def made_full(self, news, mask):
+        """The boxes that hold something behind a news, if some boxes may do so ahead of it."""
+        key = (1, news, mask)
+        if key not in self.known:
+            into = mask_of([box for box, boxes in enumerate(self.into[news]) if boxes & mask])
+            self.known[key] = self.strings[news] | into
+        return self.known[key]
+
+    def bits_known(self, mask):
+        """The numbers of the bits of an integer, kept for the next time."""
+        if mask not in self.bits:
+            self.bits[mask] = bits_of(mask)
+        return self.bits[mask]
+
+    def renamed(self, row, mask):
+        """A row of the boxes that are kept, by their new numbers."""
+        key = (row, mask)
+        if key not in self.rows_known:
+            names = {box: at for at, box in enumerate(self.bits_known(mask))}
+            self.rows_known[key] = joined([item if isinstance(item, str) else names.get(item, "") for item in row])
+        return self.rows_known[key]
+
+    def moved(self, state, move):
+        """A move with the rows that are left of its news."""
+        if move is None:
+            return None
+        key = (2, move[1], self.masks[state], self.masks[move[0]])
+        if key not in self.known:
+            news = self.plan.news[move[1]]
+            rows = tuple([self.renamed(news[box], key[2]) for box in self.bits_known(key[3])])
+            self.known[key] = self.numbers.setdefault(rows, len(self.numbers))
+        return (move[0], self.known[key])
 
 
 def with_fewer_boxes(plan):
     """The plan without the boxes of states that come into no value, and without those that are always empty."""
-    # There are far fewer of these than there are steps, as many classes have the same.
-    moves = {(state, goal, news): True for (state, _, _), (goal, news) in plan.steps.items()}
-    matter = boxes_that_matter(plan, moves)
-    full = boxes_that_may_be_full(plan, moves)
-    kept = [[box for box in range(size) if (state, box) in matter and (state, box) in full]
-            for state, size in enumerate(plan.sizes)]
-    names = [{box: at for at, box in enumerate(boxes)} for boxes in kept]
-
-    def renamed(row, state):
-        return joined([item if isinstance(item, str) else names[state].get(item, "") for item in row])
-
-    entries = {}
-    for state, goal, news in moves:
-        entries[(state, goal, news)] = (goal, tuple([renamed(news[box], state) for box in kept[goal]]))
-    steps = {place: entries[(place[0], entry[0], entry[1])] for place, entry in plan.steps.items()}
-    firsts = [None if first is None else (first[0], tuple([first[1][box] for box in kept[first[0]]]))
+    kept = Kept(plan)
+    boxes = [bits_of(mask) for mask in kept.masks]
+    moves = [[kept.moved(state, move) for move in moves] for state, moves in enumerate(plan.moves)]
+    firsts = [None if first is None else (first[0], tuple([first[1][box] for box in boxes[first[0]]]))
               for first in plan.firsts]
-    ends = [None if end is None else renamed(end, state) for state, end in enumerate(plan.ends)]
-    return Plan(plan.letters, plan.ahead, firsts, steps, ends, [len(boxes) for boxes in kept])
-
-
-def boxes_that_matter(plan, moves):
-    """The pairs of a state and a box of it that comes into a value, as the keys of a dict."""
-    sources = {}
-    for state, goal, news in moves:
-        for box, row in enumerate(news):
-            sources.setdefault((goal, box), []).extend([(state, source) for source in boxes_in(row)])
-    begun = [(state, box) for state, end in enumerate(plan.ends) if end is not None for box in boxes_in(end)]
-    return spread(begun, sources)
-
-
-def boxes_that_may_be_full(plan, moves):
-    """The pairs of a state and a box of it that may hold something, as the keys of a dict."""
-    goals = {}
-    begun = [(first[0], box) for first in plan.firsts if first is not None
-             for box, string in enumerate(first[1]) if string != ""]
-    for state, goal, news in moves:
-        for box, row in enumerate(news):
-            if any([isinstance(item, str) for item in row]):
-                begun.append((goal, box))
-            for source in boxes_in(row):
-                goals.setdefault((state, source), []).append((goal, box))
-    return spread(begun, goals)
+    found = Plan(plan.letters, plan.ahead, firsts, list(kept.numbers))
+    found.frames = plan.frames
+    for state, end in enumerate(plan.ends):
+        row = None if end is None else kept.renamed(end, kept.masks[state])
+        found.add_state(plan.frame_of[state], moves[state], row, len(boxes[state]), plan.met[state])
+    return found
 
 
 def with_merged_states_of(plan):
     """The plan with one state for all that are equivalent."""
-    going = [[] for _ in plan.ends]
-    for place in sorted(plan.steps):
-        going[place[0]].append((place[1:], plan.steps[place]))
-    kinds = [(plan.sizes[state], end, tuple([(place, entry[1]) for place, entry in going[state]]))
-             for state, end in enumerate(plan.ends)]
+    kinds = [(plan.sizes[state], plan.ends[state], plan.frame_of[state],
+              tuple([None if move is None else move[1] for move in moves])) for state, moves in enumerate(plan.moves)]
     block = numbered_kinds(kinds)
+    goals = [[move[0] for move in moves if move is not None] for moves in plan.moves]
     many = 0
     # Blocks are split by what their states lead to, until nothing changes.
-    while many < len(set(block)):
-        many = len(set(block))
-        block = numbered_kinds([(block[state], tuple([block[entry[0]] for _, entry in steps]))
-                                for state, steps in enumerate(going)])
-    steps = {(block[state], k, number): (block[goal], news)
-             for (state, k, number), (goal, news) in plan.steps.items()}
+    while many < max(block + [-1]) + 1:
+        many = max(block) + 1
+        block = numbered_kinds([(block[state], tuple([block[goal] for goal in behind]))
+                                for state, behind in enumerate(goals)])
     firsts = [None if first is None else (block[first[0]], first[1]) for first in plan.firsts]
-    shown = first_of_each(block)
-    return Plan(plan.letters, plan.ahead, firsts, steps, [plan.ends[state] for state in shown],
-                [plan.sizes[state] for state in shown])
+    found = Plan(plan.letters, plan.ahead, firsts, plan.news)
+    found.frames = plan.frames
+    for state in first_of_each(block):
+        moves = [None if move is None else (block[move[0]], move[1]) for move in plan.moves[state]]
+        found.add_state(plan.frame_of[state], moves, plan.ends[state], plan.sizes[state], 0)
+    for state, met in enumerate(plan.met):
+        found.met[block[state]] |= met
+    return found
+
+
+def with_fewer_slots(plan):
+    """The plan with one place in a frame for all whose moves are the same in all states of this frame."""
+    states = [[] for _ in plan.frames]
+    for state, frame in enumerate(plan.frame_of):
+        states[frame].append(state)
+    found = Plan(plan.letters, plan.ahead, plan.firsts, plan.news)
+    kept = []
+    for frame, members in zip(plan.frames, states):
+        columns = [plan.moves[state] for state in members]
+        slots = numbered_kinds([tuple(moves) for moves in zip(*columns)])
+        kept.append(first_of_each(slots))
+        found.frames.append({place: slots[slot] for place, slot in frame.items()} if members else {})
+    for state, frame in enumerate(plan.frame_of):
+        moves = [plan.moves[state][slot] for slot in kept[frame]]
+        found.add_state(frame, moves, plan.ends[state], plan.sizes[state], plan.met[state])
+    return found
 
 
 def with_merged_classes_of(plan):
     """The plan with one class for all that are equivalent."""
     going = [[] for _ in plan.ahead]
-    for state, k, number in sorted(plan.steps):
-        going[number].append((state, k, plan.steps[(state, k, number)]))
+    for at, frame in enumerate(plan.frames):
+        for k, number in sorted(frame):
+            going[number].append((at, k, frame[(k, number)]))
     kinds = [(plan.firsts[number], tuple(steps)) for number, steps in enumerate(going)]
     block = numbered_kinds(blocks_of(plan.ahead, kinds))
     shown = first_of_each(block)
     ahead = [tuple([block[goal] for goal in plan.ahead[number]]) for number in shown]
-    steps = {(state, k, block[number]): entry for (state, k, number), entry in plan.steps.items()}
-    return Plan(plan.letters, ahead, [plan.firsts[number] for number in shown], steps, plan.ends, plan.sizes)
+    found = Plan(plan.letters, ahead, [plan.firsts[number] for number in shown], plan.news)
+    found.frames = [{(k, block[number]): slot for (k, number), slot in frame.items()} for frame in plan.frames]
+    for state, met in enumerate(plan.met):
+        met = mask_of([block[number] for number in bits_of(met)])
+        found.add_state(plan.frame_of[state], plan.moves[state], plan.ends[state], plan.sizes[state], met)
+    return found
 
 
 def numbered_kinds(kinds):

@@ -83,11 +83,11 @@ class CutSketch:
     def step(self, state, k, key):
         """The step at a letter."""
         if state[0] == 1:
-            goal, news = self.other.steps[(state[1], k, key[0])]
+            goal, news = self.other.step(state[1], k, key[0])
             return ((1, goal), news + ((self.other.sizes[state[1]],),))
         read = self.goals[state[2]][k]
         here, number = key[1][read]
-        goal, news = self.one.steps[(state[1], k, number)]
+        goal, news = self.one.step(state[1], k, number)
         if not here:
             return ((0, goal, read), news)
         other, others = begin_with(self.other.firsts[key[0]])
@@ -146,7 +146,7 @@ class PiecesSketch:
         """The step at a letter."""
         read = self.goals[state[1]][k]
         here, number = key[1][read]
-        goal, news = self.plan.steps[(state[0], k, number)]
+        goal, news = self.plan.step(state[0], k, number)
         last = (self.plan.sizes[state[0]],)
         if not here:
             return ((goal, read), news + (last,))

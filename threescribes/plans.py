@@ -7,6 +7,9 @@ from threescribes.boxes import put_together
 from threescribes.pairs import live_pairs, met_pairs
 from threescribes.reach import met_by_letters
 from threescribes.rows import filled, told
+from threescribes.smaller import smaller
+
+MANY_ENTRIES = 100000
 
 
 class Plan:
@@ -14,17 +17,41 @@ class Plan:
 
     ahead[c][k] is a class, as in a box machine. firsts[c] is None for the class of a text without a value,
     and otherwise the state in which a text of this class begins, with what its boxes hold then.
-    steps has, by a state, a letter and the class of the rest behind it, the next state and its news.
-    Only what some text leads to stands there. ends[q] is None or a row, sizes[q] the number of boxes.
+    moves[q] is a list of moves or None; a move has the next state and the number of its news in news. The frame
+    frames[frame_of[q]] tells, by a letter and the class of the rest behind it, which of the moves it is, so
+    that a move that is done ahead of many classes stands there once. ends[q] is None or a row, sizes[q]
+    the number of boxes, and met[q] has the bit 1 << c for each class c of the rest with which q is met.
     """
 
-    def __init__(self, letters, ahead, firsts, steps, ends, sizes):
+    def __init__(self, letters, ahead, firsts, news):
         self.letters = letters
         self.ahead = ahead
         self.firsts = firsts
-        self.steps = steps
-        self.ends = ends
-        self.sizes = sizes
+        self.news = news
+        self.frames = []
+        self.frame_of = []
+        self.moves = []
+        self.ends = []
+        self.sizes = []
+        self.met = []
+
+    def add_state(self, frame, moves, end, size, met):
+        """One more state."""
+        self.frame_of.append(frame)
+        self.moves.append(moves)
+        self.ends.append(end)
+        self.sizes.append(size)
+        self.met.append(met)
+
+    def move(self, state, k, number):
+        """The move at the k-th letter with a class behind it, or None."""
+        slot = self.frames[self.frame_of[state]].get((k, number))
+        return None if slot is None else self.moves[state][slot]
+
+    def step(self, state, k, number):
+        """The next state and the news at the k-th letter with a class behind it, or None."""
+        move = self.move(state, k, number)
+        return None if move is None else (move[0], self.news[move[1]])
 
 
 def plan_of(sketch):
@@ -41,17 +68,17 @@ def plan_of(sketch):
     for number, key in enumerate(keys):
         first = sketch.first(key)
         if first is not None:
-            first = (found.met(first[0], len(first[1]), number), first[1])
+            first = (found.met_with(first[0], len(first[1]), number), first[1])
         firsts.append(first)
     sources = sources_of_classes(ahead)
-    steps = {}
     while found.waiting:
         state, number = found.waiting.pop()
         for k, behind in sources[number]:
             goal, news = sketch.step(found.names[state], k, keys[behind])
-            steps[(state, k, behind)] = (found.met(goal, len(news), behind), news)
-    ends = [sketch.end(key) if (state, 0) in found.pairs else None for state, key in enumerate(found.names)]
-    return Plan(sketch.letters, ahead, firsts, steps, ends, found.sizes)
+            goal = found.met_with(goal, len(news), behind)
+            found.steps[state][(k, behind)] = (goal, found.news.setdefault(news, len(found.news)))
+    ends = [sketch.end(key) if found.met[state] & 1 else None for state, key in enumerate(found.names)]
+    return with_frames(Plan(sketch.letters, ahead, firsts, list(found.news)), found, ends)
 
 
 def sources_of_classes(ahead):
@@ -63,27 +90,46 @@ def sources_of_classes(ahead):
     return sources
 
 
+def with_frames(plan, found, ends):
+    """The plan with all states that have been found."""
+    frames = {}
+    for state, end in enumerate(ends):
+        places = tuple(sorted(found.steps[state]))
+        moves = [found.steps[state][place] for place in places]
+        plan.add_state(frames.setdefault(places, len(frames)), moves, end, found.sizes[state], found.met[state])
+    plan.frames = [{place: slot for slot, place in enumerate(places)} for places in frames]
+    return plan
+
+
 class Found:
-    """The states that have been met, and the pairs of a state and a class of the rest."""
+    """The states that have been met, with the classes of the rest, and the steps and the news."""
 
     def __init__(self):
         self.numbers = {}
         self.names = []
         self.sizes = []
-        self.pairs = {}
+        self.met = []
+        self.steps = []
+        self.news = {}
         self.waiting = []
 
-    def met(self, key, size, number):
-        """The number of a state, which has so many boxes and now a rest of some class."""
+    def number_of(self, key, size):
+        """The number of a state, which has so many boxes."""
         if key not in self.numbers:
             self.numbers[key] = len(self.names)
             self.names.append(key)
             self.sizes.append(size)
-        pair = (self.numbers[key], number)
-        if pair not in self.pairs:
-            self.pairs[pair] = True
-            self.waiting.append(pair)
-        return pair[0]
+            self.met.append(0)
+            self.steps.append({})
+        return self.numbers[key]
+
+    def met_with(self, key, size, number):
+        """The number of a state, which now has a rest of some class."""
+        state = self.number_of(key, size)
+        if not self.met[state] >> number & 1:
+            self.met[state] |= 1 << number
+            self.waiting.append((state, number))
+        return state
 
 
 def plan_of_boxes(boxes):
@@ -91,14 +137,29 @@ def plan_of_boxes(boxes):
     letters, ahead, many, rows, ends = boxes[1:]
     met = met_pairs(boxes)
     live = live_pairs(boxes)
-    steps = {}
+    found = Found()
+    for state in range(len(rows)):
+        found.number_of(state, many)
+    for state, number in met:
+        if (state, number) in live:
+            found.met_with(state, many, number)
     for state, by_letter in enumerate(rows):
         for k, entries in enumerate(by_letter):
             for number, entry in enumerate(entries):
                 if (state, ahead[number][k]) in met and entry is not None and (entry[0], number) in live:
-                    steps[(state, k, number)] = entry
+                    news = found.news.setdefault(entry[1], len(found.news))
+                    found.steps[state][(k, number)] = (entry[0], news)
     firsts = [(0, ("",) * many) if (0, number) in live else None for number in range(len(ahead))]
-    return Plan(letters, ahead, firsts, steps, ends, [many] * len(rows))
+    return with_frames(Plan(letters, ahead, firsts, list(found.news)), found, ends)
+
+
+def machine_of_plan(plan):
+    """The box machine of a plan that is lean, made smaller still."""
+    boxes = boxes_of_plan(plan)
+    # In a large machine there is little left to merge, and the search for it would take longer than all the rest.
+    if len(boxes[5]) * len(boxes[1]) * len(boxes[2]) > MANY_ENTRIES:
+        return boxes
+    return smaller(boxes)
 
 
 def boxes_of_plan(plan):
@@ -111,14 +172,20 @@ def boxes_of_plan(plan):
     names = names_by_class(plan)
     states = 1 + max([name for numbers in names for name in numbers.values()] + [0])
     rows = [[[None] * len(plan.ahead) for _ in plan.letters] for _ in range(states)]
-    for (state, k, number), (goal, news) in plan.steps.items():
-        name = names[plan.ahead[number][k]][state]
-        rows[name][k][number] = (names[number][goal], padded(news, many))
+    all_news = [padded(news, many) for news in plan.news]
+    places = [places_by_class(plan.ahead, frame) for frame in plan.frames]
+    for whole, by_state in enumerate(names):
+        for state, name in by_state.items():
+            moves = plan.moves[state]
+            by_letter = rows[name]
+            for k, number, slot in places[plan.frame_of[state]][whole]:
+                goal, news = moves[slot]
+                by_letter[k][number] = (names[number][goal], all_news[news])
     for number, classes in enumerate(plan.ahead):
         for k, whole in enumerate(classes):
             first = plan.firsts[whole]
             if first is not None:
-                goal, news = plan.steps[(first[0], k, number)]
+                goal, news = plan.step(first[0], k, number)
                 rows[0][k][number] = (names[number][goal], padded(begun(news, first[1]), many))
     ends = [None] * states
     for state, name in names[0].items():
@@ -130,19 +197,23 @@ def boxes_of_plan(plan):
     return ("boxes", plan.letters, tuple(plan.ahead), many, full, tuple(ends))
 
 
+def places_by_class(ahead, frame):
+    """For each class the places of a frame, as tuples of a letter, the class behind it and the number of the move."""
+    found = [[] for _ in ahead]
+    for (k, number), slot in frame.items():
+        found[ahead[number][k]].append((k, number, slot))
+    return found
+
+
 def names_by_class(plan):
     """For each class of the rest a dict of the states that are met with it, with a number for each.
 
     The number 0 is that of the beginning, so it is also that of a state in which a text begins with empty boxes.
     """
-    met = [{} for _ in plan.ahead]
-    for state, k, number in sorted(plan.steps):
-        met[plan.ahead[number][k]][state] = True
-        met[number][plan.steps[(state, k, number)][0]] = True
     names = []
-    for first, states in zip(plan.firsts, met):
+    for number, first in enumerate(plan.firsts):
         begins = None if first is None or any(first[1]) else first[0]
-        rest = [state for state in sorted(states) if state != begins]
+        rest = [state for state, met in enumerate(plan.met) if met >> number & 1 and state != begins]
         found = {state: at + 1 for at, state in enumerate(rest)}
         if begins is not None:
             found[begins] = 0

@@ -20,16 +20,6 @@ def thread_of(row):
     return tuple(shape), tuple(pieces)
 
 
-def untouched(many):
-    """The threads of so many boxes that hold what they held."""
-    return [thread_of((box,)) for box in range(many)]
-
-
-def strings_told(contents):
-    """The threads of boxes of which it is known what they hold."""
-    return [thread_of((string,)) for string in contents]
-
-
 def linked(thread, threads):
     """A thread made of what boxes held at some place, in terms of what they held earlier, by the threads of these."""
     shape = []
