@@ -1,7 +1,8 @@
 import inspect
 import unittest
 
-from threescribes import after, boxes, build, errors, heads, meaning, sets, settexts, smaller, terms, walks
+from threescribes import (after, alike, boxes, build, crossings, errors, heads, meaning, plainhead, sets, settexts, smaller,
+                          spaces, terms, walks)
 
 FUNCTIONS = {
     sets: {"is_set": ["thing"], "least": ["machine"], "contains": ["machine", "text"], "join": ["one", "other"],
@@ -15,7 +16,13 @@ FUNCTIONS = {
     meaning: {"value_of": ["tree", "letters", "text"]},
     build: {"boxes_of": ["tree", "letters"]},
     walks: {"head_of": ["boxes"]},
+    crossings: {"boxes_of_head": ["head"]},
+    plainhead: {"plain_head": ["head"]},
     after: {"after": ["first", "second"]},
+    spaces: {"number_of": ["value"], "weight_of": ["value"], "vector_of": ["values"], "step_vector": ["vector", "news"],
+             "end_number": ["vector", "row"], "class_pairs": ["one", "other"], "node_steps": ["one", "other", "node"],
+             "written": ["vectors", "vector"]},
+    alike: {"alike": ["one", "other"]},
 }
 
 

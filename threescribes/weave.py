@@ -39,10 +39,10 @@ class Weave:
         self.waiting = []
         self.masks_known = {}
         self.sources = sources_of_classes(run.ahead)
-        self.frames = [self.frame_of(state) for state in range(len(run.ends))]
+        self.frames = [self.frame_with_moves(state) for state in range(len(run.ends))]
         self.rows = self.numbered_rows()
 
-    def frame_of(self, state):
+    def frame_with_moves(self, state):
         """The frame of a state of the run in which each of its moves stands once, and these moves."""
         moves = self.run.moves[state]
         slots = {}
