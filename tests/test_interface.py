@@ -1,8 +1,8 @@
 import inspect
 import unittest
 
-from threescribes import (after, alike, boxes, build, crossings, errors, heads, meaning, plainhead, sets, settexts, smaller,
-                          spaces, terms, walks)
+from threescribes import (after, alike, boxes, build, crossings, errors, heads, into, judge, meaning, pens, plainhead, run,
+                          sets, settexts, smaller, spaces, terms, walks)
 
 FUNCTIONS = {
     sets: {"is_set": ["thing"], "least": ["machine"], "contains": ["machine", "text"], "join": ["one", "other"],
@@ -23,6 +23,10 @@ FUNCTIONS = {
              "end_number": ["vector", "row"], "class_pairs": ["one", "other"], "node_steps": ["one", "other", "node"],
              "written": ["vectors", "vector"]},
     alike: {"alike": ["one", "other"]},
+    judge: {"takes": ["one", "other", "paper"]},
+    into: {"led_into": ["boxes", "machine"], "first_outside": ["boxes", "machine"]},
+    run: {"tell": ["letters", "one", "other"]},
+    pens: {"is_pen": ["boxes"], "is_plain_pen": ["boxes"], "forks": ["pen", "fork"], "without_look": ["pen"]},
 }
 
 

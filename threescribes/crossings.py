@@ -21,9 +21,10 @@ class CrossingSketch:
     """A plan that gives what a head writes.
 
     A class has the right class and a table: for each left class and each state in which the head may come to
-    the rest from the left, the state in which it comes back, or that it ends there, or neither. A state has
-    the left class of the rest and the states of all crossings to the right of the border ahead of it.
-    There is a box for each stretch.
+    the rest from the left, the state in which it comes back, or that it ends there, or neither; and whether it is
+    silent there, writing nothing. A state has the left class of the rest and all crossings to the right of the
+    border ahead of it: the state of each one, and whether the head is silent behind it until it comes back.
+    There is a box for each stretch, but where the head is silent between two stretches they share one.
     """
 
     def __init__(self, head):
@@ -40,7 +41,8 @@ class CrossingSketch:
             row = []
             for state in self.places:
                 move = self.moves[state][mark][left][0]
-                row.append(NEITHER if move is None else ENDS if move[1] == 1 else move[0])
+                found = NEITHER if move is None else ENDS if move[1] == 1 else move[0]
+                row.append((found, found >= 0 and move[2] == ""))
             table.append(tuple(row))
         return (0, tuple(table))
 
@@ -59,32 +61,39 @@ class CrossingSketch:
         column has its move in each state at this place, and rest is the row of the table for what is to the right.
         """
         met = {}
+        is_silent = True
         while state not in met:
             met[state] = True
             move = column[state]
             if move is None:
-                return NEITHER
+                return (NEITHER, False)
+            is_silent = is_silent and move[2] == ""
             if move[1] == -1:
-                return move[0]
-            state = rest[self.places[move[0]]]
+                return (move[0], is_silent)
+            state, is_rest_silent = rest[self.places[move[0]]]
             if state < 0:
-                return state
-        return NEITHER
+                return (state, False)
+            is_silent = is_silent and is_rest_silent
+        return (NEITHER, False)
 
     def first(self, key):
         """The beginning of a text: the head goes on from the left mark whenever it is there."""
         column = [numbers[len(self.letters)][0][key[0]] for numbers in self.moves]
         table = key[1][0]
+        met = {}
         crossings = []
-        contents = []
+        contents = [""]
         state = 0
         while state != ENDS:
-            move = None if state == NEITHER else column[state]
-            if move is None or move[0] in crossings:
+            move = None if state == NEITHER or state in met else column[state]
+            if move is None:
                 return None
-            crossings.append(move[0])
-            contents.append(move[2])
-            state = table[self.places[move[0]]]
+            met[state] = True
+            contents[-1] += move[2]
+            state, is_silent = table[self.places[move[0]]]
+            crossings.append((move[0], is_silent))
+            if not is_silent and state != ENDS:
+                contents.append("")
         return ((0, tuple(crossings)), tuple(contents))
 
     def step(self, state, k, key):
@@ -94,29 +103,35 @@ class CrossingSketch:
         behind = self.behind_left[left][k]
         table = key[1][behind]
         found = []
-        news = []
-        row = [0]
+        rows = [[0]]
+        box = 0
         used = 1
-        here = crossings[0]
+        here = crossings[0][0]
         while here != ENDS:
             goal, step, string = column[here]
-            row.append(string)
+            rows[-1].append(string)
             if step == 1:
-                found.append(goal)
-                news.append(joined(row))
-                row = []
-                here = table[self.places[goal]]
+                here, is_silent = table[self.places[goal]]
+                found.append((goal, is_silent))
+                if not is_silent and here != ENDS:
+                    rows.append([])
             else:
-                # The head comes back in the next one of the crossings that are known.
-                row.append(used)
-                here = crossings[used]
+                # The head comes back by the next one of the crossings that are known.
+                if not crossings[used - 1][1]:
+                    box += 1
+                    rows[-1].append(box)
+                here = crossings[used][0]
                 used += 1
-        return ((behind, tuple(found)), tuple(news))
+        return ((behind, tuple(found)), tuple([joined(row) for row in rows]))
 
     def end(self, state):
         """The end of a text: the head turns at the right mark until it ends there."""
         left, crossings = state
-        row = []
-        for box, here in enumerate(crossings):
-            row.extend([box, self.moves[here][len(self.letters) + 1][left][0][2]])
+        row = [0]
+        box = 0
+        for at, (here, is_silent) in enumerate(crossings):
+            row.append(self.moves[here][len(self.letters) + 1][left][0][2])
+            if not is_silent and at + 1 < len(crossings):
+                box += 1
+                row.append(box)
         return joined(row)

@@ -11,7 +11,7 @@ def woven(one, other):
     """A plan with the values of the second plan at the values of the first one."""
     sketch = RunSketch(one, other)
     run = lean(plan_of(sketch))
-    return Weave(run, sketch.threads, 2 * max(other.sizes + [0])).plan()
+    return Weave(run, sketch.threads, 2 * max(other.sizes + [0])).whole_plan()
 
 
 class Weave:
@@ -50,7 +50,7 @@ class Weave:
         found = {place: slots.setdefault(moves[slot], len(slots)) for place, slot in frame.items()}
         return found, list(slots)
 
-    def plan(self):
+    def whole_plan(self):
         """The plan with all states that are met."""
         run = self.run
         firsts = [None if first is None else self.begun(number, first) for number, first in enumerate(run.firsts)]
@@ -80,7 +80,7 @@ class Weave:
             self.pending.append(0)
             self.moves.append([None] * len(self.frames[name[0]][1]))
         state = self.numbers[name]
-        new = mask & ~self.met[state]
+        new = mask ^ (mask & self.met[state])
         if new:
             if not self.pending[state]:
                 self.waiting.append(state)
