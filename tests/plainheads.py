@@ -71,5 +71,11 @@ BOTH_WAYS = head("abc", [{**same("abc", (0, 1, "")), "<": (0, 1, ""), ">": lambd
 EVEN = head("a", [{"a": (0, 1, "x"), "<": lambda l, r: None if r else (0, 1, "e"), ">": lambda l, r: None if l else (0, 1, "f")}],
             ((1,), (0,)), ((1,), (0,)))
 NEVER = head("ab", [{}])
+# Two states do the same at a b, but for the step: one goes back to the first letter, the other one goes on.
+TO_AND_FRO = head("ab", [{"<": (0, 1, ""), "a": (1, 1, ""), "b": (2, 1, ""), ">": (0, 1, "e")},
+                         {"b": (3, -1, "")},
+                         {"b": (3, 1, "")},
+                         {"a": (4, 1, "p"), "b": (4, 1, "q"), ">": (4, 1, "r")},
+                         {**same("ab", (4, 1, None)), ">": (0, 1, "s")}])
 
-NAMED = (COPY, TURNED, THRICE, AT_LETTERS, ENDLESS, STOPS, SIDES, COUNTS, COUNTS_RIGHT, TURNS_RIGHT, BOTH_WAYS, EVEN, NEVER)
+NAMED = (COPY, TURNED, THRICE, AT_LETTERS, ENDLESS, STOPS, SIDES, COUNTS, COUNTS_RIGHT, TURNS_RIGHT, BOTH_WAYS, EVEN, NEVER, TO_AND_FRO)

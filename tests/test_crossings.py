@@ -2,11 +2,13 @@ import random
 import unittest
 
 from plainboxes import any_head, some_boxes, walk
-from plainheads import AT_LETTERS, BOTH_WAYS, COPY, ENDLESS, EVEN, NAMED, SIDES, STOPS, THRICE, TURNED
+from plainheads import (AT_LETTERS, BOTH_WAYS, COPY, COUNTS, COUNTS_RIGHT, ENDLESS, EVEN, NAMED, SIDES, STOPS, THRICE, TO_AND_FRO,
+                        TURNED)
 from plainly import texts
 from threescribes.boxes import is_boxes, run_boxes
 from threescribes.crossings import boxes_of_head
 from threescribes.heads import is_head
+from threescribes.plainhead import plain_head
 from threescribes.walks import head_of
 
 
@@ -36,13 +38,18 @@ class BoxesOfHeads(unittest.TestCase):
                                   (THRICE, "ab", "labrmabsabt"), (THRICE, "", "lrmst"), (AT_LETTERS, "aab", "aabycc"),
                                   (ENDLESS, "abab", "abab"), (ENDLESS, "baab", None), (STOPS, "bba", "byx"), (STOPS, "ab", None),
                                   (STOPS, "ac", None), (SIDES, "ab", "nanbanbn"), (SIDES, "", "nnnn"),
-                                  (EVEN, "aa", "exxf"), (EVEN, "a", None)):
+                                  (TO_AND_FRO, "abb", "pbbs"), (TO_AND_FRO, "bb", "r"), (TO_AND_FRO, "bba", "ps"), (EVEN, "aa", "exxf"), (EVEN, "a", None)):
             self.assertEqual(walk(head, text), value)
             self.assertEqual(run_boxes(boxes_of_head(head), text), value)
 
     def test_as_few_boxes_as_there_are_stretches_with_something_in_them(self):
         self.assertEqual([boxes_of_head(head)[3] for head in (COPY, TURNED, THRICE)], [1, 2, 3])
         self.assertLessEqual(boxes_of_head(BOTH_WAYS)[3], 3)
+
+    def test_stretches_between_which_nothing_is_written_share_a_box(self):
+        # Plain heads go to and fro to know the classes.
+        for head in (COPY, TURNED, THRICE, COUNTS, COUNTS_RIGHT):
+            self.assertEqual(boxes_of_head(plain_head(head))[3], boxes_of_head(head)[3])
 
     def test_one_letter(self):
         chance = random.Random(121)

@@ -53,6 +53,15 @@ class Papers(unittest.TestCase):
             if takes(one, other, alike(one, one)[1]):
                 self.assertEqual([text for text in texts(one[1], 4) if run(one, text) != run(other, text)], [])
 
+    def test_ends_ahead_of_a_letter(self):
+        # One of them has an end behind the last letter alone, which matters nowhere else.
+        one = ("boxes", "a", ((0,),), 0, ((((0, ()),),),), (("w",),))
+        other = ("boxes", "a", ((1,), (1,)), 0, ((((0, ()), (1, ())),), (((0, ()), (1, ())),)), (("w",), None))
+        unlike = other[:5] + ((("w",), ("v",)),)
+        for machine in (other, unlike):
+            for pair in ((one, machine), (machine, one), (machine, machine)):
+                self.assertTrue(self.taken(pair[0], pair[1], alike(pair[0], pair[1])[1]))
+
     def test_a_paper_by_hand(self):
         # Letters double the number of boxes; 27 and 2 are the weight and the digit of b. All is written over two vectors.
         empty, one_b, two_b = [vector_of(("b" * many,)) * 2 for many in range(3)]
@@ -108,7 +117,7 @@ class Papers(unittest.TestCase):
 
     def test_nodes_that_are_no_nodes(self):
         paper = alike(COPY, COPY)[1]
-        for node in ((-1, 0, -1, 0), (1, 0, 0, 0), (0, 0, 1, 0), (0, 1, 0, 0), (0, 0, 0, 1), (-2, 0, 0, 0), (0, -1, 0, 0), (0, 0, 0), (0, 0, 0, 0, 0),
+        for node in ((-1, 0, -1, 0), (1, 0, 0, 0), (0, 0, 1, 0), (0, 1, 0, 0), (0, 0, 0, 1), (-2, 0, 0, 0), (0, 0, -2, 0), (0, -1, 0, 0), (0, 0, 0), (0, 0, 0, 0, 0),
                      (False, 0, 0, 0), (0, 0, 0, False), ("0", 0, 0, 0), (None, 0, 0, 0), (0, (0,), 0, 0)):
             more = (node, (), ())
             self.refused(COPY, COPY, (paper[0], (more,) + paper[1]), "node")

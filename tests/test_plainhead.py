@@ -76,6 +76,15 @@ class PlainHeads(unittest.TestCase):
         self.check(head)
         self.assertEqual(len(plain_head(head)[4]), len(plain_head(COUNTS)[4]))
 
+    def test_states_that_do_the_same(self):
+        # Each state twice: the copies lead to copies.
+        many = len(COUNTS[4])
+        copies = tuple(tuple(tuple(tuple(None if move is None else (move[0] + many,) + move[1:] for move in entries) for entries in by_left)
+                             for by_left in numbers) for numbers in COUNTS[4])
+        head = COUNTS[:4] + (copies + COUNTS[4],)
+        self.check(head)
+        self.assertEqual(len(plain_head(head)[4]), len(plain_head(COUNTS)[4]))
+
     def test_heads_of_box_machines(self):
         chance = random.Random(133)
         for _ in range(40):

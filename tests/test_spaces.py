@@ -106,6 +106,13 @@ class Steps(unittest.TestCase):
         self.assertEqual(end_number((2, 3, 7), ("a", 0)), 10)
         self.assertEqual(end_number((0,) * 9, (1, "x", 0)), 0)
 
+    def test_ends_of_many_boxes(self):
+        values = ("ab", "c", "", "dd", "e", "fg", "h")
+        for many in range(8):
+            row = tuple(range(many - 1, -1, -1)) + ("z",)
+            self.assertEqual(end_number(vector_of(values[:many]), row), number_of("".join(values[:many][::-1]) + "z"))
+            self.assertEqual(end_number(vector_of(values[:many]), row[-2:]), number_of("".join(values[:1][:many]) + "z"))
+
 
 # Over "ab": class 1 is that of rests that begin with a, 2 that of those that begin with b.
 FIRST = ("boxes", "ab", ((1, 2), (1, 2), (1, 2)), 1,

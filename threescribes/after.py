@@ -10,4 +10,4 @@ def after(first, second):
     """A box machine with the values of the second machine at the values of the first one."""
     one = lean(plan_of_boxes(smaller(first)))
     other = lean(plan_of_boxes(smaller(second)))
-    return machine_of_plan(lean(woven(one, other)))
+    return machine_of_plan(woven(one, other))

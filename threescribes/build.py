@@ -18,7 +18,7 @@ def boxes_of(tree, letters):
 def plan_of_term(tree, letters):
     """The plan of a term."""
     if tree[0] == "then":
-        return lean(woven(plan_of_term(tree[1], letters), plan_of_term(tree[2], letters)))
+        return woven(plan_of_term(tree[1], letters), plan_of_term(tree[2], letters))
     return lean(plan_of(sketch_of(tree, letters)))
 
 

@@ -4,11 +4,17 @@ from threescribes.blocks import blocks_of
 from threescribes.plans import Plan
 from threescribes.rows import joined
 
+MANY_STATES = 20000
+
 
 def lean(plan):
     """A plan with the same function, with fewer boxes, states and classes where that is easily seen."""
+    found = with_fewer_boxes(plan)
+    # Of very many states nearly all are different, and it takes long to see it.
+    if len(found.ends) <= MANY_STATES:
+        found = with_merged_states_of(found)
     # Merging classes makes no states equivalent: where classes are, the steps of all states are equal.
-    return with_merged_classes_of(with_fewer_slots(with_merged_states_of(with_fewer_boxes(plan))))
+    return with_merged_classes_of(with_fewer_slots(found))
 
 
 def mask_of(numbers):
@@ -39,19 +45,20 @@ class Kept:
 
     def __init__(self, plan):
         self.plan = plan
-        # There may be very many news, but they are made of far fewer rows.
-        rows = {row: True for news in plan.news for row in news}
-        boxes = {row: boxes_of_row(row) for row in rows}
-        fulls = {row: any([isinstance(item, str) for item in row]) for row in rows}
-        self.into = [[boxes[row] for row in news] for news in plan.news]
-        self.strings = [mask_of([box for box, row in enumerate(news) if fulls[row]]) for news in plan.news]
-        self.known = {}
+        self.parts = plan.news if plan.parts is None else plan.parts
+        self.news = [(at,) for at in range(len(plan.news))] if plan.parts is None else plan.news
+        self.into = [[boxes_of_row(row) for row in part] for part in self.parts]
+        self.strings = [mask_of([box for box, row in enumerate(part) if any([isinstance(item, str) for item in row])])
+                        for part in self.parts]
+        self.into_known = [{} for _ in self.parts]
+        self.full_known = [{} for _ in self.parts]
         self.rows_known = {}
-        self.bits = {}
+        self.moves_known = {}
         self.numbers = {}
         matter = self.boxes_that_matter()
         full = self.boxes_that_may_be_full()
         self.masks = [some & others for some, others in zip(matter, full)]
+        self.bits = {mask: bits_of(mask) for mask in self.masks}
 
     def boxes_that_matter(self):
         """For each state its boxes that come into a value."""
@@ -74,14 +81,16 @@ class Kept:
 
     def come_into(self, news, mask):
         """The boxes that come into some boxes by a news."""
-        key = (0, news, mask)
-        if key not in self.known:
-            found = 0
-            for box, into in enumerate(self.into[news]):
-                if mask >> box & 1:
-                    found |= into
-            self.known[key] = found
-        return self.known[key]
+        found = 0
+        for part in self.news[news]:
+            into = self.into[part]
+            here = mask & (1 << len(into)) - 1
+            mask >>= len(into)
+            known = self.into_known[part]
+            if here not in known:
+                known[here] = union_of([into[box] for box in bits_of(here)])
+            found |= known[here]
+        return found
 
     def boxes_that_may_be_full(self):
         """For each state its boxes that may hold something."""
@@ -103,36 +112,53 @@ class Kept:
 
     def made_full(self, news, mask):
         """The boxes that hold something behind a news, if some boxes may do so ahead of it."""
-        key = (1, news, mask)
-        if key not in self.known:
-            into = mask_of([box for box, boxes in enumerate(self.into[news]) if boxes & mask])
-            self.known[key] = self.strings[news] | into
-        return self.known[key]
-
-    def bits_known(self, mask):
-        """The numbers of the bits of an integer, kept for the next time."""
-        if mask not in self.bits:
-            self.bits[mask] = bits_of(mask)
-        return self.bits[mask]
+        found = 0
+        begin = 0
+        for part in self.news[news]:
+            into = self.into[part]
+            known = self.full_known[part]
+            if mask not in known:
+                boxes = mask_of([box for box, sources in enumerate(into) if sources & mask])
+                known[mask] = boxes | self.strings[part]
+            found |= known[mask] << begin
+            begin += len(into)
+        return found
 
     def renamed(self, row, mask):
         """A row of the boxes that are kept, by their new numbers."""
-        key = (row, mask)
+        names = {box: at for at, box in enumerate(self.bits[mask])}
+        return joined([item if isinstance(item, str) else names.get(item, "") for item in row])
+
+    def rows_left(self, part, mask, here):
+        """The rows that are left of a part, of the boxes here, if some boxes are kept ahead of it."""
+        key = (part, mask, here)
         if key not in self.rows_known:
-            names = {box: at for at, box in enumerate(self.bits_known(mask))}
-            self.rows_known[key] = joined([item if isinstance(item, str) else names.get(item, "") for item in row])
+            rows = self.parts[part]
+            self.rows_known[key] = tuple([self.renamed(rows[box], mask) for box in bits_of(here)])
         return self.rows_known[key]
 
     def moved(self, state, move):
         """A move with the rows that are left of its news."""
         if move is None:
             return None
-        key = (2, move[1], self.masks[state], self.masks[move[0]])
-        if key not in self.known:
-            news = self.plan.news[move[1]]
-            rows = tuple([self.renamed(news[box], key[2]) for box in self.bits_known(key[3])])
-            self.known[key] = self.numbers.setdefault(rows, len(self.numbers))
-        return (move[0], self.known[key])
+        mask, goal_mask = self.masks[state], self.masks[move[0]]
+        key = (move[1], mask, goal_mask)
+        if key not in self.moves_known:
+            rows = ()
+            for part in self.news[move[1]]:
+                many = len(self.into[part])
+                rows = rows + self.rows_left(part, mask, goal_mask & (1 << many) - 1)
+                goal_mask >>= many
+            self.moves_known[key] = self.numbers.setdefault(rows, len(self.numbers))
+        return (move[0], self.moves_known[key])
+
+
+def union_of(masks):
+    """All bits of some integers."""
+    found = 0
+    for mask in masks:
+        found |= mask
+    return found
 
 
 def with_fewer_boxes(plan):

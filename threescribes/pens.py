@@ -31,8 +31,9 @@ def forks(pen, fork):
         number = class_of_text(pen, rest, 0)
         if class_of_text(pen, v, number) != number or run_boxes(pen, u + rest) is None:
             return False
+        # As there is a value at both together, the pen does not stop before the rest.
         begun = written_by(pen, 0, u, number)
-        again = None if begun is None else written_by(pen, begun[0], v, number)
+        again = written_by(pen, begun[0], v, number)
         if again is None or again[0] != begun[0]:
             return False
         told.append((begun[1], again[1]))

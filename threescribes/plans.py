@@ -21,13 +21,16 @@ class Plan:
     frames[frame_of[q]] tells, by a letter and the class of the rest behind it, which of the moves it is, so
     that a move that is done ahead of many classes stands there once. ends[q] is None or a row, sizes[q]
     the number of boxes, and met[q] has the bit 1 << c for each class c of the rest with which q is met.
+    parts is None, or a list of tuples of rows; then each of news is a tuple of the numbers of parts which give
+    the news one behind the other. Only plans that are still to be made lean have it.
     """
 
-    def __init__(self, letters, ahead, firsts, news):
+    def __init__(self, letters, ahead, firsts, news, parts=None):
         self.letters = letters
         self.ahead = ahead
         self.firsts = firsts
         self.news = news
+        self.parts = parts
         self.frames = []
         self.frame_of = []
         self.moves = []

@@ -8,10 +8,10 @@ from threescribes.threads import all_linked, kept_in_boxes
 
 
 def woven(one, other):
-    """A plan with the values of the second plan at the values of the first one."""
+    """A lean plan with the values of the second plan at the values of the first one."""
     sketch = RunSketch(one, other)
     run = lean(plan_of(sketch))
-    return Weave(run, sketch.threads, 2 * max(other.sizes + [0])).whole_plan()
+    return lean(Weave(run, sketch.threads, 2 * max(other.sizes + [0])).whole_plan())
 
 
 class Weave:
@@ -57,12 +57,11 @@ class Weave:
         while self.waiting:
             state = self.waiting.pop()
             self.go_on(state)
-        found = Plan(run.letters, run.ahead, firsts, [])
+        found = Plan(run.letters, run.ahead, firsts, list(self.news), [rows for _, rows in self.parts])
         found.frames = [frame for frame, _ in self.frames]
         for state, name in enumerate(self.names):
             end = self.end(name) if self.met[state] & 1 else None
             found.add_state(name[0], self.moves[state], end, self.room * (len(name) - 1), self.met[state])
-        found.news = [tuple([row for part in parts for row in self.parts[part][1]]) for parts in self.news]
         return found
 
     def begun(self, number, first):
