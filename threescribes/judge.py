@@ -17,7 +17,7 @@ class Judge:
         self.other = other
         self.pairs = steps_by_pair(one, other)
         self.images = Images(one, other)
-        self.empty = vector_of(("",) * one[3]) + vector_of(("",) * other[3])
+        self.first_vector = vector_of(("",) * one[3]) + vector_of(("",) * other[3])
 
     def is_taken(self, paper):
         """Whether a paper is taken."""
@@ -43,7 +43,7 @@ class Judge:
 
     def are_vectors(self, thing):
         """Whether a thing is a tuple of tuples of integers, each as long as the vectors are."""
-        return isinstance(thing, tuple) and all([is_tuple(vector, len(self.empty)) and are_integers(vector)
+        return isinstance(thing, tuple) and all([is_tuple(vector, len(self.first_vector)) and are_integers(vector)
                                                  for vector in thing])
 
     def are_begins(self, thing, vectors):
@@ -52,7 +52,7 @@ class Judge:
             return False
         for writing, (number, other_number) in zip(thing, self.pairs):
             node = (0, number, 0, other_number)
-            if node not in vectors or not writes(writing, vectors[node], self.empty):
+            if node not in vectors or not writes(writing, vectors[node], self.first_vector):
                 return False
         return True
 

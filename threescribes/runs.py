@@ -41,7 +41,7 @@ class RunSketch:
         self.going = {}
         for state, moves in enumerate(one.moves):
             for (k, number), slot in one.frames[one.frame_of[state]].items():
-                if moves[slot] is not None and one.met[state] >> one.ahead[number][k] & 1:
+                if one.met[state] >> one.ahead[number][k] & 1:
                     self.going.setdefault((k, number), []).append((state, moves[slot]))
 
     def empty(self):
