@@ -1,6 +1,7 @@
 """Plans made lean: without boxes that do not matter, and with one state or class for all that are equivalent."""
 
 from threescribes.blocks import blocks_of
+from threescribes.masks import bits_of, mask_of
 from threescribes.plans import Plan
 from threescribes.rows import joined
 
@@ -15,24 +16,6 @@ def lean(plan):
         found = with_merged_states_of(found)
     # Merging classes makes no states equivalent: where classes are, the steps of all states are equal.
     return with_merged_classes_of(with_fewer_slots(found))
-
-
-def mask_of(numbers):
-    """The integer with the bits of some numbers."""
-    mask = 0
-    for number in numbers:
-        mask |= 1 << number
-    return mask
-
-
-def bits_of(mask):
-    """The numbers of the bits of an integer, in ascending order."""
-    numbers = []
-    while mask:
-        low = mask & -mask
-        numbers.append(low.bit_length() - 1)
-        mask ^= low
-    return numbers
 
 
 def boxes_of_row(row):

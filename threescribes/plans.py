@@ -4,6 +4,7 @@ Each state of a plan has boxes of its own, numbered from 0, so that parts of pla
 """
 
 from threescribes.boxes import put_together
+from threescribes.masks import bits_of
 from threescribes.pairs import live_pairs, met_pairs
 from threescribes.reach import met_by_letters
 from threescribes.rows import filled, told
@@ -174,38 +175,46 @@ def boxes_of_plan(plan):
     many = max(plan.sizes + [0])
     names = names_by_class(plan)
     states = 1 + max([name for numbers in names for name in numbers.values()] + [0])
-    rows = [[[None] * len(plan.ahead) for _ in plan.letters] for _ in range(states)]
     all_news = [padded(news, many) for news in plan.news]
-    places = [places_by_class(plan.ahead, frame) for frame in plan.frames]
-    for whole, by_state in enumerate(names):
-        for state, name in by_state.items():
-            moves = plan.moves[state]
-            by_letter = rows[name]
-            for k, number, slot in places[plan.frame_of[state]][whole]:
-                goal, news = moves[slot]
-                by_letter[k][number] = (names[number][goal], all_news[news])
-    for number, classes in enumerate(plan.ahead):
-        for k, whole in enumerate(classes):
-            first = plan.firsts[whole]
-            if first is not None:
-                goal, news = plan.step(first[0], k, number)
-                rows[0][k][number] = (names[number][goal], padded(begun(news, first[1]), many))
+    slots = slots_by_place(plan)
+    by_letter = []
+    for k in range(len(plan.letters)):
+        columns = [column_of(plan, k, number, names, slots, all_news, states) for number in range(len(plan.ahead))]
+        by_letter.append(list(zip(*columns)))
     ends = [None] * states
     for state, name in names[0].items():
         ends[name] = plan.ends[state]
     if plan.firsts[0] is not None:
         state, contents = plan.firsts[0]
         ends[0] = begun([plan.ends[state]], contents)[0]
-    full = tuple([tuple([tuple(entries) for entries in by_letter]) for by_letter in rows])
-    return ("boxes", plan.letters, tuple(plan.ahead), many, full, tuple(ends))
+    return ("boxes", plan.letters, tuple(plan.ahead), many, tuple(list(zip(*by_letter))), tuple(ends))
 
 
-def places_by_class(ahead, frame):
-    """For each class the places of a frame, as tuples of a letter, the class behind it and the number of the move."""
-    found = [[] for _ in ahead]
-    for (k, number), slot in frame.items():
-        found[ahead[number][k]].append((k, number, slot))
+def slots_by_place(plan):
+    """By a letter and the class behind it, a dict of the frames that have this place, with the number of the move."""
+    found = {}
+    for at, frame in enumerate(plan.frames):
+        for place, slot in frame.items():
+            found.setdefault(place, {})[at] = slot
     return found
+
+
+def column_of(plan, k, number, names, slots, all_news, states):
+    """The entries at the k-th letter with a class behind it, for each of so many states of the machine."""
+    whole = plan.ahead[number][k]
+    slot_of = slots.get((k, number), {})
+    goal_names = names[number]
+    column = [None] * states
+    for state, name in names[whole].items():
+        slot = slot_of.get(plan.frame_of[state])
+        if slot is not None:
+            goal, news = plan.moves[state][slot]
+            column[name] = (goal_names[goal], all_news[news])
+    first = plan.firsts[whole]
+    if first is not None:
+        goal, news = plan.step(first[0], k, number)
+        column[0] = (goal_names[goal], padded(begun(news, first[1]), len(all_news[0])))
+    return column
 
 
 def names_by_class(plan):
@@ -213,10 +222,14 @@ def names_by_class(plan):
 
     The number 0 is that of the beginning, so it is also that of a state in which a text begins with empty boxes.
     """
+    states = [[] for _ in plan.ahead]
+    for state, met in enumerate(plan.met):
+        for number in bits_of(met):
+            states[number].append(state)
     names = []
-    for number, first in enumerate(plan.firsts):
+    for first, met in zip(plan.firsts, states):
         begins = None if first is None or any(first[1]) else first[0]
-        rest = [state for state, met in enumerate(plan.met) if met >> number & 1 and state != begins]
+        rest = [state for state in met if state != begins]
         found = {state: at + 1 for at, state in enumerate(rest)}
         if begins is not None:
             found[begins] = 0

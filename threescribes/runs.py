@@ -21,9 +21,9 @@ class RunSketch:
     """A plan that gives the run of a second plan at the value of a first one.
 
     A class has the class of the first plan and, for each state of it, the number of a weft or NO_WEFT. A state
-    has the state of the first plan and an entry for each box in the weft: a tuple of the box, the class of the
-    second plan that what it holds has with what stands behind it, and the state of the second plan behind it.
-    There is a box for each entry, with the run at what the first plan's box holds.
+    has the state of the first plan and the number of an entry for each box in the weft: a tuple of the box, the
+    class of the second plan that what it holds has with what stands behind it, and the state of the second
+    plan behind it. There is a box for each entry, with the run at what the first plan's box holds.
     """
 
     def __init__(self, one, other):
@@ -37,7 +37,15 @@ class RunSketch:
         self.weft_numbers = {}
         self.wefts_known = {}
         self.classes_known = {}
+        self.many = max(one.sizes + [1])
+        self.entries = []
+        self.entry_numbers = {}
+        self.boxes_known = {}
         self.steps_known = {}
+        self.rows_known = {}
+        self.nothing_done = [(self.kept_token(unchanged(size)),) for size in other.sizes]
+        # Then nearly each step is asked for just once, and there is no use in keeping it.
+        self.is_simple = len(one.ends) == 1 and len(one.ahead) == 1
         self.going = {}
         for state, moves in enumerate(one.moves):
             for (k, number), slot in one.frames[one.frame_of[state]].items():
@@ -102,7 +110,7 @@ class RunSketch:
         if self.woven(weft, contents) is None:
             return None
         entries, news = self.read(weft, contents, {})
-        return ((first[0], entries), tuple(["".join(row) for row in news]))
+        return ((first[0],) + entries, tuple(["".join(row) for row in news]))
 
     def step(self, state, k, key):
         """The step at a letter."""
@@ -110,45 +118,67 @@ class RunSketch:
         place = (state, move, key[1][move[0]])
         if place not in self.steps_known:
             goal, news = move
-            entries, rows = self.read(self.wefts[key[1][goal]], self.one.news[news], by_box(state[1]))
-            self.steps_known[place] = ((goal, entries), rows)
+            entries, rows = self.read(self.wefts[key[1][goal]], self.one.news[news], self.by_box(state))
+            step = ((goal,) + entries, rows)
+            if self.is_simple:
+                return step
+            self.steps_known[place] = step
         return self.steps_known[place]
 
     def end(self, state):
         """The end of a text."""
         row = self.one.ends[state[0]]
-        known = by_box(state[1])
+        known = self.by_box(state)
         first, contents = self.other.firsts[self.class_ahead(row, 0, known)]
-        goal, items = self.read_row(row, first, 0, known)
-        return joined([self.token(told(contents))] + items + [self.token((self.other.ends[goal],))])
+        goal, run = self.read_row(row, first, 0, known)
+        return joined((self.token(told(contents)),) + run + (self.token((self.other.ends[goal],)),))
+
+    def by_box(self, state):
+        """For each box in the weft: the place of its entry in a state, the class ahead, the state behind, a number."""
+        if state not in self.boxes_known:
+            found = {}
+            for at, number in enumerate(state[1:]):
+                box, ahead, behind = self.entries[number]
+                found[box] = (at, ahead, behind, number * self.many + at)
+            self.boxes_known[state] = found
+        return self.boxes_known[state]
 
     def read(self, weft, news, known):
         """The entries for the boxes in a weft and the rows of this plan's boxes, behind a step of the first plan."""
-        number = self.acts.class_of_tail(weft[-1]) if weft else 0
-        behind = {}
-        ahead = {}
+        if weft == ():
+            return (), ()
+        number = self.acts.class_of_tail(weft[-1])
+        behind = []
+        ahead = []
         for at in range(len(weft) - 2, 0, -2):
-            if at + 2 < len(weft):
+            if behind:
                 number = self.acts.class_ahead(weft[at + 1], number)
-            behind[weft[at]] = number
+            behind.append(number)
             number = self.class_ahead(news[weft[at]], number, known)
-            ahead[weft[at]] = number
-        state = self.acts.state_of_head(weft[0], number) if weft else 0
+            ahead.append(number)
+        state = self.acts.state_of_head(weft[0], number)
         found = []
         for at in range(1, len(weft), 2):
-            box = weft[at]
-            if at > 1:
-                state = self.acts.state_behind(weft[at - 1], ahead[box], state)
-            state, items = self.read_row(news[box], state, behind[box], known)
+            number = ahead.pop()
+            if found:
+                state = self.acts.state_behind(weft[at - 1], number, state)
+            state, run = self.read_row(news[weft[at]], state, behind.pop(), known)
             # Where nothing is done, it is told how many boxes there are to which nothing is done.
-            row = joined(items) or (self.kept_token(unchanged(self.other.sizes[state])),)
-            found.append(((box, ahead[box], state), row))
+            found.append(((weft[at], number, state), run or self.nothing_done[state]))
         found = sorted(found)
-        return tuple([entry for entry, _ in found]), tuple([row for _, row in found])
+        return tuple([self.entry_number(entry) for entry, _ in found]), tuple([row for _, row in found])
+
+    def entry_number(self, entry):
+        """The number of an entry."""
+        if entry not in self.entry_numbers:
+            self.entry_numbers[entry] = len(self.entries)
+            self.entries.append(entry)
+        return self.entry_numbers[entry]
 
     def class_ahead(self, row, number, known):
         """The class of a row of the first plan with a class of the second one behind it."""
-        for item in row[::-1]:
+        # Of two items one is a box, of which it is known.
+        for item in row[1::-1]:
             number = self.classes_in(item, number)[0] if isinstance(item, str) else known[item][1]
         return number
 
@@ -160,22 +190,29 @@ class RunSketch:
         return self.classes_known[(string, number)]
 
     def read_row(self, row, state, number, known):
-        """The state behind a row of the first plan and the items of its run, begun in a state ahead of a class."""
+        """The state behind a row of the first plan and the row of its run, begun in a state ahead of a class."""
+        key = (row, state, number, tuple([known[item][3] for item in row if not isinstance(item, str)]))
+        if key not in self.rows_known:
+            self.rows_known[key] = self.read_items(row, state, number, known)
+        return self.rows_known[key]
+
+    def read_items(self, row, state, number, known):
+        """The same for a row that has not been read before."""
         behind = [number]
         for item in row[:0:-1]:
             behind.append(self.class_ahead((item,), behind[-1], known))
-        items = []
+        run = []
         for item, number_behind in zip(row, behind[::-1]):
             if isinstance(item, str):
                 state, tokens = self.read_string(item, state, number_behind)
-                items.append(tokens)
+                run.append(tokens)
             else:
-                box, _, state = known[item]
-                items.append(box)
-        return state, items
+                at, _, state, _ = known[item]
+                run.append(at)
+        return state, joined(run)
 
     def read_string(self, string, state, number):
-        """The state behind a string, begun in a state with a class behind it, and its run."""
+        """The state behind a string, begun in a state ahead of a class, and its run."""
         tokens = ""
         for sign, behind in zip(string, self.classes_in(string, number)[1:]):
             state, news = self.other.step(state, self.other.letters.index(sign), behind)
@@ -197,8 +234,3 @@ class RunSketch:
 def unchanged(many):
     """The rows that change nothing in so many boxes."""
     return tuple([(box,) for box in range(many)])
-
-
-def by_box(entries):
-    """A dict of the entries by their boxes: the place of each entry, the class ahead of it and the state behind it."""
-    return {entry[0]: (at, entry[1], entry[2]) for at, entry in enumerate(entries)}

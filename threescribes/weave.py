@@ -1,6 +1,7 @@
 """Plans that do two plans one behind the other."""
 
-from threescribes.lean import bits_of, lean
+from threescribes.lean import lean
+from threescribes.masks import bits_of
 from threescribes.plans import Plan, padded, plan_of, sources_of_classes
 from threescribes.rows import boxes_in
 from threescribes.runs import RunSketch
