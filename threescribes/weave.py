@@ -141,12 +141,13 @@ class Weave:
     def threads_of(self, row, name):
         """The threads that a row of the run makes."""
         threads = None
-        for item in row:
+        # From behind, as there are few threads at an end.
+        for item in row[::-1]:
             if isinstance(item, str):
-                later = self.threads_of_string(item)
+                earlier = self.threads_of_string(item)
             else:
-                later = kept_in_boxes(self.shapes[name[item + 1]], self.room * item)
-            threads = followed(threads, later)
+                earlier = kept_in_boxes(self.shapes[name[item + 1]], self.room * item)
+            threads = earlier if threads is None else all_linked(threads, earlier)
         return threads
 
     def threads_of_string(self, string):
@@ -154,15 +155,11 @@ class Weave:
         if string not in self.strings_known:
             threads = None
             for token in string.split():
-                threads = followed(threads, self.threads[int(token)])
+                later = self.threads[int(token)]
+                threads = later if threads is None else all_linked(later, threads)
             self.strings_known[string] = threads
         return self.strings_known[string]
 
     def end(self, name):
         """The row of an end. It makes just one thread, of one piece."""
         return self.threads_of(self.run.ends[name[0]], name)[0][1][0]
-
-
-def followed(threads, later):
-    """Some threads, or None if there are none yet, followed by others."""
-    return later if threads is None else all_linked(later, threads)
