@@ -11,8 +11,8 @@ MANY_STATES = 20000
 def lean(plan):
     """A plan with the same function, with fewer boxes, states and classes where that is easily seen."""
     found = with_fewer_boxes(plan)
-    # Of very many states nearly all are different, and it takes long to see it.
-    if len(found.ends) <= MANY_STATES:
+    # Of very many states of a plan that has parts nearly all are different, and it takes long to see it.
+    if plan.parts is None or len(found.ends) <= MANY_STATES:
         found = with_merged_states_of(found)
     # Merging classes makes no states equivalent: where classes are, the steps of all states are equal.
     return with_merged_classes_of(with_fewer_slots(found))

@@ -195,7 +195,9 @@ def slots_by_place(plan):
     found = {}
     for at, frame in enumerate(plan.frames):
         for place, slot in frame.items():
-            found.setdefault(place, {})[at] = slot
+            if place not in found:
+                found[place] = {}
+            found[place][at] = slot
     return found
 
 
