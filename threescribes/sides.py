@@ -24,10 +24,11 @@ class Side:
     moves[state][number][own][other] is the move of a head that is told this class and the one on the other side.
 
     The states are told by keys: (AT, state, class) knows the class of this place, (FROM, state, class) that of
-    the place from where it comes. (SEEK, state, names) knows, for each class of the place from where it
-    comes, to which class that leads where the search began, or NO_CLASS; (BACK, state, one, other) has
-    the two classes with which it comes back. (FAR,) goes to the near mark, and (HOME, class) from there to
-    the far mark, to know the class at the beginning.
+    the place from where it comes. (SEEK, state, names) has a name for each class of the place from where it
+    comes, the same one for those that lead to the same class where the search began, and NO_CLASS for those
+    that lead to none which it may have been. (BACK, state, one, other) has the two classes with which it
+    comes back. (FAR,) goes to the near mark, and (HOME, class) from there to the far mark, to know
+    the class at the beginning.
     """
 
     def __init__(self, table, forward, near, moves):
@@ -94,11 +95,11 @@ class Side:
             return self.done(state, 0, number, other)
         if number >= len(self.table[0]):
             return None
-        names = [own if goals[number] == known else NO_CLASS for own, goals in enumerate(self.table)]
-        met = [own for own in names if own != NO_CLASS]
+        met = [own for own, goals in enumerate(self.table) if goals[number] == known]
         if len(met) == 1:
             return self.done(state, met[0], number, other)
-        return ((SEEK, state, tuple(names)), -self.forward, "") if met else None
+        names = [own if own in met else NO_CLASS for own in range(len(self.table))]
+        return ((SEEK, state, renamed(names)), -self.forward, "") if met else None
 
     def sought(self, key, number):
         """The move of a state that seeks the class with which the search began."""
@@ -111,7 +112,7 @@ class Side:
         met = sorted({name for name in further if name != NO_CLASS})
         if len(met) < 2:
             return self.turned(state, names, met[0]) if met else None
-        return ((SEEK, state, tuple(further)), -self.forward, "")
+        return ((SEEK, state, renamed(further)), -self.forward, "")
 
     def turned(self, state, names, right):
         """The move that turns back, where it is known which class is the right one."""
@@ -127,3 +128,9 @@ class Side:
         if goals[0] == goals[1]:
             return self.done(state, right, number, other)
         return ((BACK, state) + goals, self.forward, "")
+
+
+def renamed(names):
+    """The names 0, 1 and so on in the place of others, in the order in which they are first met."""
+    new = {NO_CLASS: NO_CLASS}
+    return tuple([new.setdefault(name, len(new) - 1) for name in names])
