@@ -50,21 +50,27 @@ class CrossingSketch:
         """The class of a letter and a rest."""
         table = []
         for left in range(len(self.behind_left)):
-            column = [numbers[k][left][key[0]] for numbers in self.moves]
+            place = (k, left, key[0])
             rest = key[1][self.behind_left[left][k]]
-            table.append(tuple([self.crossed(state, column, rest) for state in self.places]))
+            table.append(tuple([self.crossed(state, place, rest) for state in self.places]))
         return (self.ahead[key[0]][k], tuple(table))
 
-    def crossed(self, state, column, rest):
+    def move(self, state, place):
+        """The move in a state at a place, told by its number and the classes on both sides."""
+        number, left, right = place
+        return self.moves[state][number][left][right]
+
+    def crossed(self, state, place, rest):
         """How the head comes from a place to which it comes from the left: back in a state, to an end, or neither.
 
-        column has its move in each state at this place, and rest is the row of the table for what is to the right.
+        The place is told by its number and the classes on both sides; rest is the row of the table for what is
+        to the right.
         """
         met = {}
         is_silent = True
         while state not in met:
             met[state] = True
-            move = column[state]
+            move = self.move(state, place)
             if move is None:
                 return (NEITHER, False)
             is_silent = is_silent and move[2] == ""
@@ -78,14 +84,14 @@ class CrossingSketch:
 
     def first(self, key):
         """The beginning of a text: the head goes on from the left mark whenever it is there."""
-        column = [numbers[len(self.letters)][0][key[0]] for numbers in self.moves]
+        mark = (len(self.letters), 0, key[0])
         table = key[1][0]
         met = {}
         crossings = []
         contents = [""]
         state = 0
         while state != ENDS:
-            move = None if state == NEITHER or state in met else column[state]
+            move = None if state == NEITHER or state in met else self.move(state, mark)
             if move is None:
                 return None
             met[state] = True
@@ -99,7 +105,7 @@ class CrossingSketch:
     def step(self, state, k, key):
         """The step at a letter."""
         left, crossings = state
-        column = [numbers[k][left][key[0]] for numbers in self.moves]
+        place = (k, left, key[0])
         behind = self.behind_left[left][k]
         table = key[1][behind]
         found = []
@@ -108,7 +114,7 @@ class CrossingSketch:
         used = 1
         here = crossings[0][0]
         while here != ENDS:
-            goal, step, string = column[here]
+            goal, step, string = self.move(here, place)
             rows[-1].append(string)
             if step == 1:
                 here, is_silent = table[self.places[goal]]
